@@ -1,0 +1,106 @@
+package phasor
+
+import "bipole/api"
+
+// CheckEisen returns the error of a number, or OK.
+func CheckEisen(x api.Eisen) api.Errno {
+	return checkParts(x, api.MaxPart)
+}
+
+// checkParts returns ErrRange for a number with a part that is not from -most
+// to most.
+func checkParts(x api.Eisen, most int) api.Errno {
+	return first(checkRange(x.A, -most, most), checkRange(x.B, -most, most))
+}
+
+// checkTurn returns ErrRange for sixths that are too many.
+func checkTurn(sixths int) api.Errno {
+	return checkRange(sixths, -MaxTurn, MaxTurn)
+}
+
+// Add returns the sum of two numbers.
+func Add(a, b api.Eisen) (api.Eisen, api.Errno) {
+	if e := first(CheckEisen(a), CheckEisen(b)); e != api.OK {
+		return api.Eisen{}, e
+	}
+	return limited(sum(a, b))
+}
+
+// Mul returns the product of two numbers.
+func Mul(a, b api.Eisen) (api.Eisen, api.Errno) {
+	if e := first(CheckEisen(a), CheckEisen(b)); e != api.OK {
+		return api.Eisen{}, e
+	}
+	return limited(product(a, b))
+}
+
+// Turned returns a number turned by some sixths.
+func Turned(x api.Eisen, sixths int) (api.Eisen, api.Errno) {
+	if e := first(CheckEisen(x), checkTurn(sixths)); e != api.OK {
+		return api.Eisen{}, e
+	}
+	return limited(turn(x, sixths))
+}
+
+// Norm returns the norm of a number.
+func Norm(x api.Eisen) (int, api.Errno) {
+	if e := CheckEisen(x); e != api.OK {
+		return 0, e
+	}
+	return x.A*x.A - x.A*x.B + x.B*x.B, api.OK
+}
+
+// Framed returns a list in a frame that turns.
+func Framed(l []api.Eisen, sixths int) ([]api.Eisen, api.Errno) {
+	if e := first(checkLimited(l, api.MaxList, CheckEisen), checkTurn(sixths)); e != api.OK {
+		return nil, e
+	}
+	framed := make([]api.Eisen, len(l))
+	for i, x := range l {
+		y, e := limited(turn(x, -sixths*i))
+		if e != api.OK {
+			return nil, e
+		}
+		framed[i] = y
+	}
+	return framed, api.OK
+}
+
+// limited returns a result, or ErrLarge if the limits of its parts change it.
+func limited(x api.Eisen) (api.Eisen, api.Errno) {
+	within := api.Eisen{A: clamped(x.A), B: clamped(x.B)}
+	if within != x {
+		return api.Eisen{}, api.ErrLarge
+	}
+	return x, api.OK
+}
+
+func clamped(part int) int {
+	return min(max(part, -api.MaxPart), api.MaxPart)
+}
+
+func sum(a, b api.Eisen) api.Eisen {
+	return api.Eisen{A: a.A + b.A, B: a.B + b.B}
+}
+
+func product(a, b api.Eisen) api.Eisen {
+	return api.Eisen{A: a.A*b.A - a.B*b.B, B: a.A*b.B + a.B*b.A - a.B*b.B}
+}
+
+func conjugate(x api.Eisen) api.Eisen {
+	return api.Eisen{A: x.A - x.B, B: -x.B}
+}
+
+// turn returns a number turned by some sixths. Six of them are none, so it
+// never counts more than five.
+func turn(x api.Eisen, sixths int) api.Eisen {
+	for range remainder(sixths, 6) {
+		x = api.Eisen{A: x.A - x.B, B: x.A}
+	}
+	return x
+}
+
+// remainder returns n modulo m, from 0 on also for n below 0.
+func remainder(n, m int) int {
+	return (n%m + m) % m
+}
