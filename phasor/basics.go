@@ -4,6 +4,7 @@ import (
 	"math"
 
 	"bipole/api"
+	"bipole/check"
 )
 
 // The remainders by which a permutation is drawn.
@@ -35,7 +36,7 @@ func isDigit(r rune) bool {
 
 // Draw returns the permutation of n elements by a key.
 func Draw(key, n int) ([]int, api.Errno) {
-	if e := first(checkRange(key, 1, drawModulus-1), checkRange(n, 0, api.MaxList)); e != api.OK {
+	if e := check.First(check.Range(key, 1, drawModulus-1), check.Range(n, 0, api.MaxList)); e != api.OK {
 		return nil, e
 	}
 	l := make([]int, n)
@@ -53,7 +54,7 @@ func Draw(key, n int) ([]int, api.Errno) {
 
 // CheckRatio returns the error of a ratio, or OK.
 func CheckRatio(x api.Ratio) api.Errno {
-	if e := first(checkRange(x.Num, -api.MaxNumber, api.MaxNumber), checkRange(x.Den, 1, api.MaxNumber)); e != api.OK {
+	if e := check.First(check.Range(x.Num, -api.MaxNumber, api.MaxNumber), check.Range(x.Den, 1, api.MaxNumber)); e != api.OK {
 		return e
 	}
 	if divisor(x.Num, x.Den) > 1 {
@@ -72,7 +73,7 @@ func divisor(a, b int) int {
 
 // CheckSample returns the error of a sample, or OK.
 func CheckSample(x float32) api.Errno {
-	return first(checkFinite(x), checkSixteenths(x, api.MaxValue))
+	return check.First(checkFinite(x), checkSixteenths(x, api.MaxValue))
 }
 
 // checkFinite returns ErrForm for NaN and for both infinities.

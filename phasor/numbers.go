@@ -1,6 +1,9 @@
 package phasor
 
-import "bipole/api"
+import (
+	"bipole/api"
+	"bipole/check"
+)
 
 // CheckEisen returns the error of a number, or OK.
 func CheckEisen(x api.Eisen) api.Errno {
@@ -10,17 +13,17 @@ func CheckEisen(x api.Eisen) api.Errno {
 // checkParts returns ErrRange for a number with a part that is not from -most
 // to most.
 func checkParts(x api.Eisen, most int) api.Errno {
-	return first(checkRange(x.A, -most, most), checkRange(x.B, -most, most))
+	return check.First(check.Range(x.A, -most, most), check.Range(x.B, -most, most))
 }
 
 // checkTurn returns ErrRange for sixths that are too many.
 func checkTurn(sixths int) api.Errno {
-	return checkRange(sixths, -MaxTurn, MaxTurn)
+	return check.Range(sixths, -MaxTurn, MaxTurn)
 }
 
 // Add returns the sum of two numbers.
 func Add(a, b api.Eisen) (api.Eisen, api.Errno) {
-	if e := first(CheckEisen(a), CheckEisen(b)); e != api.OK {
+	if e := check.First(CheckEisen(a), CheckEisen(b)); e != api.OK {
 		return api.Eisen{}, e
 	}
 	return limited(sum(a, b))
@@ -28,7 +31,7 @@ func Add(a, b api.Eisen) (api.Eisen, api.Errno) {
 
 // Mul returns the product of two numbers.
 func Mul(a, b api.Eisen) (api.Eisen, api.Errno) {
-	if e := first(CheckEisen(a), CheckEisen(b)); e != api.OK {
+	if e := check.First(CheckEisen(a), CheckEisen(b)); e != api.OK {
 		return api.Eisen{}, e
 	}
 	return limited(product(a, b))
@@ -36,7 +39,7 @@ func Mul(a, b api.Eisen) (api.Eisen, api.Errno) {
 
 // Turned returns a number turned by some sixths.
 func Turned(x api.Eisen, sixths int) (api.Eisen, api.Errno) {
-	if e := first(CheckEisen(x), checkTurn(sixths)); e != api.OK {
+	if e := check.First(CheckEisen(x), checkTurn(sixths)); e != api.OK {
 		return api.Eisen{}, e
 	}
 	return limited(turn(x, sixths))
@@ -52,7 +55,7 @@ func Norm(x api.Eisen) (int, api.Errno) {
 
 // Framed returns a list in a frame that turns.
 func Framed(l []api.Eisen, sixths int) ([]api.Eisen, api.Errno) {
-	if e := first(checkLimited(l, api.MaxList, CheckEisen), checkTurn(sixths)); e != api.OK {
+	if e := check.First(check.List(l, api.MaxList, CheckEisen), checkTurn(sixths)); e != api.OK {
 		return nil, e
 	}
 	framed := make([]api.Eisen, len(l))

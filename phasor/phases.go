@@ -1,13 +1,16 @@
 package phasor
 
-import "bipole/api"
+import (
+	"bipole/api"
+	"bipole/check"
+)
 
 // third is the sixths by which w turns a number.
 const third = 2
 
 // CheckPhases returns the error of phases, or OK.
 func CheckPhases(p Phases) api.Errno {
-	return firstIn(p[:], checkPhase)
+	return check.Each(p[:], checkPhase)
 }
 
 func checkPhase(x api.Eisen) api.Errno {
@@ -28,7 +31,7 @@ func components(p Phases) [3]api.Eisen {
 
 // Restored returns the phases of components.
 func Restored(c [3]api.Eisen) (Phases, api.Errno) {
-	if e := firstIn(c[:], CheckEisen); e != api.OK {
+	if e := check.Each(c[:], CheckEisen); e != api.OK {
 		return Phases{}, e
 	}
 	p := Phases(divided(transformed(c[:], turnedBy(-third), sum), 3))
@@ -50,7 +53,7 @@ func Balanced(p Phases) (bool, api.Errno) {
 
 // Power returns the power of voltages and currents, and twice its real part.
 func Power(u, i Phases) (api.Eisen, int, api.Errno) {
-	if e := first(CheckPhases(u), CheckPhases(i)); e != api.OK {
+	if e := check.First(CheckPhases(u), CheckPhases(i)); e != api.OK {
 		return api.Eisen{}, 0, e
 	}
 	power := api.Eisen{}

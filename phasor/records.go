@@ -4,6 +4,7 @@ import (
 	"math"
 
 	"bipole/api"
+	"bipole/check"
 )
 
 const (
@@ -16,7 +17,7 @@ func CheckRecord(r Record) api.Errno {
 	if !IsName(r.Name) {
 		return api.ErrName
 	}
-	return checkLimited(r.Samples, api.MaxSamples, CheckSample)
+	return check.List(r.Samples, api.MaxSamples, CheckSample)
 }
 
 // Pack returns the stream of a record.
@@ -52,7 +53,7 @@ func Unpack(s []byte) (Record, api.Errno) {
 		return Record{}, api.ErrCheck
 	}
 	r := Record{Name: string(name), Samples: samplesOf(samples)}
-	if e := first(CheckRecord(r), firstIn(r.Samples, checkZero)); e != api.OK {
+	if e := check.First(CheckRecord(r), check.Each(r.Samples, checkZero)); e != api.OK {
 		return Record{}, e
 	}
 	return r, api.OK

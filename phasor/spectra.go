@@ -1,6 +1,9 @@
 package phasor
 
-import "bipole/api"
+import (
+	"bipole/api"
+	"bipole/check"
+)
 
 // powers is the powers of -i, from the power of 0 on.
 var powers = [4]api.Gauss{{Re: 1, Im: 0}, {Re: 0, Im: -1}, {Re: -1, Im: 0}, {Re: 0, Im: 1}}
@@ -35,7 +38,7 @@ func divided(l []api.Eisen, n int) []api.Eisen {
 
 // Spectrum returns the spectrum of six numbers.
 func Spectrum(l [6]api.Eisen) ([6]api.Eisen, api.Errno) {
-	if e := firstIn(l[:], checkPhase); e != api.OK {
+	if e := check.Each(l[:], checkPhase); e != api.OK {
 		return [6]api.Eisen{}, e
 	}
 	return spectrum(l), api.OK
@@ -47,12 +50,12 @@ func spectrum(l [6]api.Eisen) [6]api.Eisen {
 
 // Steps returns the steps of a spectrum.
 func Steps(s [6]api.Eisen) ([6]api.Eisen, api.Errno) {
-	if e := firstIn(s[:], CheckEisen); e != api.OK {
+	if e := check.Each(s[:], CheckEisen); e != api.OK {
 		return [6]api.Eisen{}, e
 	}
 	l := [6]api.Eisen(divided(transformed(s[:], turnedBy(1), sum), 6))
 	// Where a division left a rest, the steps have another spectrum.
-	if firstIn(l[:], checkPhase) != api.OK || spectrum(l) != s {
+	if check.Each(l[:], checkPhase) != api.OK || spectrum(l) != s {
 		return [6]api.Eisen{}, api.ErrForm
 	}
 	return l, api.OK
@@ -60,7 +63,7 @@ func Steps(s [6]api.Eisen) ([6]api.Eisen, api.Errno) {
 
 // Four returns the transform of four samples.
 func Four(l [4]float32) ([4]complex64, api.Errno) {
-	if e := firstIn(l[:], CheckSample); e != api.OK {
+	if e := check.Each(l[:], CheckSample); e != api.OK {
 		return [4]complex64{}, e
 	}
 	return four(l), api.OK
@@ -78,7 +81,7 @@ func four(l [4]float32) [4]complex64 {
 
 // Unfour returns the samples of a panel.
 func Unfour(p [4]complex64) ([4]float32, api.Errno) {
-	if e := firstIn(p[:], checkEntry); e != api.OK {
+	if e := check.Each(p[:], checkEntry); e != api.OK {
 		return [4]float32{}, e
 	}
 	var samples [4]float32
@@ -86,7 +89,7 @@ func Unfour(p [4]complex64) ([4]float32, api.Errno) {
 		samples[m] = real(x) / 4
 	}
 	// Where a number was not real, the samples have another transform.
-	if firstIn(samples[:], CheckSample) != api.OK || four(samples) != p {
+	if check.Each(samples[:], CheckSample) != api.OK || four(samples) != p {
 		return [4]float32{}, api.ErrForm
 	}
 	return samples, api.OK
@@ -95,7 +98,7 @@ func Unfour(p [4]complex64) ([4]float32, api.Errno) {
 // checkEntry returns the first error of a number of a panel, or OK.
 func checkEntry(x complex64) api.Errno {
 	const most = 4 * api.MaxValue
-	return first(checkFinite(real(x)), checkFinite(imag(x)), checkSixteenths(real(x), most), checkSixteenths(imag(x), most))
+	return check.First(checkFinite(real(x)), checkFinite(imag(x)), checkSixteenths(real(x), most), checkSixteenths(imag(x), most))
 }
 
 // timesPower returns a function that multiplies by a power of -i each time.

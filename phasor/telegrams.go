@@ -5,23 +5,24 @@ import (
 	"math"
 
 	"bipole/api"
+	"bipole/check"
 )
 
 // CheckTelegram returns the error of a telegram, or OK.
 func CheckTelegram(t Telegram) api.Errno {
-	return first(checkSource(t.Source), checkRange(t.Counter, 0, math.MaxUint16), firstIn(t.Values[:], checkValue))
+	return check.First(checkSource(t.Source), check.Range(t.Counter, 0, math.MaxUint16), check.Each(t.Values[:], checkValue))
 }
 
 func checkSource(source int) api.Errno {
-	return checkRange(source, 0, math.MaxUint8)
+	return check.Range(source, 0, math.MaxUint8)
 }
 
 func checkValue(value int) api.Errno {
-	return checkRange(value, math.MinInt16, math.MaxInt16)
+	return check.Range(value, math.MinInt16, math.MaxInt16)
 }
 
 func checkTelegrams(l []Telegram) api.Errno {
-	return checkLimited(l, MaxTelegrams, CheckTelegram)
+	return check.List(l, MaxTelegrams, CheckTelegram)
 }
 
 // Encode returns the frame of a telegram.
@@ -88,7 +89,7 @@ func blocks(s []byte) iter.Seq2[int, [Size]byte] {
 
 // Lost returns the counters of a source that are lost.
 func Lost(l []Telegram, source int) ([]int, api.Errno) {
-	if e := first(checkTelegrams(l), checkSource(source)); e != api.OK {
+	if e := check.First(checkTelegrams(l), checkSource(source)); e != api.OK {
 		return nil, e
 	}
 	lost := lostCounters(l, source)

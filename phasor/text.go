@@ -5,27 +5,26 @@ import (
 	"strings"
 
 	"bipole/api"
+	"bipole/check"
+	"bipole/text"
 )
 
-const (
-	telegramWord = "telegram"
-	maxDigits    = 9
-)
+const telegramWord = "telegram"
 
 // Print returns the text of telegrams.
 func Print(l []Telegram) (string, api.Errno) {
 	if e := checkTelegrams(l); e != api.OK {
 		return "", e
 	}
-	var text strings.Builder
+	var lines strings.Builder
 	for _, t := range l {
-		text.WriteString(telegramWord)
+		lines.WriteString(telegramWord)
 		for _, n := range numbersOf(t) {
-			text.WriteString(" " + strconv.Itoa(n))
+			lines.WriteString(" " + strconv.Itoa(n))
 		}
-		text.WriteString("\n")
+		lines.WriteString("\n")
 	}
-	return text.String(), api.OK
+	return lines.String(), api.OK
 }
 
 // numbersOf returns the numbers of a telegram in the order of a line.
@@ -53,81 +52,30 @@ func lineForms() map[string]lineForm {
 
 // Parse returns the telegrams of a text, and the index of the first line that is wrong.
 func Parse(s string) ([]Telegram, int, api.Errno) {
-	if len(s) > api.MaxLog {
-		return nil, 0, api.ErrLong
-	}
 	forms := lineForms()
 	var telegrams []Telegram
-	for rest := s; rest != ""; {
-		line, after, ended := strings.Cut(rest, "\n")
-		t, ok := parseLine(line, forms)
-		if !ok || !ended {
-			return nil, len(telegrams), api.ErrSyntax
-		}
+	at, e := text.Read(s, api.MaxLog, func(_ int, line *text.Line) bool {
+		t, known := readTelegram(line, forms)
 		telegrams = append(telegrams, t)
-		rest = after
-	}
-	if e := checkTelegrams(telegrams); e != api.OK {
-		return nil, len(telegrams), e
+		return known
+	})
+	if e := check.First(e, checkTelegrams(telegrams)); e != api.OK {
+		return nil, at, e
 	}
 	return telegrams, 0, api.OK
 }
 
-// parseLine returns the telegram of a line without its line feed; its numbers
-// may be out of their ranges.
-func parseLine(line string, forms map[string]lineForm) (Telegram, bool) {
-	left := words{rest: line}
-	next := left.next
-	word, _ := next()
-	form, ok := forms[word]
-	if !ok {
+// readTelegram takes a telegram, whose numbers may be out of their ranges, from
+// a line, and reports whether its first word is known.
+func readTelegram(line *text.Line, forms map[string]lineForm) (Telegram, bool) {
+	word, integer := line.Word, line.Integer
+	form, known := forms[word()]
+	if !known {
 		return Telegram{}, false
 	}
 	numbers := make([]int, form.numbers)
 	for i := range numbers {
-		word, there := next()
-		n, ok := integer(word)
-		if !there || !ok {
-			return Telegram{}, false
-		}
-		numbers[i] = n
-	}
-	if _, there := next(); there {
-		return Telegram{}, false
+		numbers[i] = integer()
 	}
 	return form.telegram(numbers), true
-}
-
-// words is the words of a line that are still to be taken.
-type words struct {
-	rest string
-	over bool
-}
-
-// next takes the next word, if there is one; it is empty between two spaces.
-func (w *words) next() (string, bool) {
-	if w.over {
-		return "", false
-	}
-	word, rest, more := strings.Cut(w.rest, " ")
-	w.rest, w.over = rest, !more
-	return word, true
-}
-
-// integer returns the integer that a word is in the one way to write it.
-func integer(word string) (int, bool) {
-	digits := strings.TrimPrefix(word, "-")
-	if len(digits) < 1 || len(digits) > maxDigits {
-		return 0, false
-	}
-	for _, r := range digits {
-		if !isDigit(r) {
-			return 0, false
-		}
-	}
-	if digits[0] == '0' && word != "0" {
-		return 0, false
-	}
-	n, err := strconv.Atoi(word)
-	return n, err == nil
 }

@@ -1,0 +1,42 @@
+// Package check has what all layers ask of their arguments: the first of
+// several errors, and the limits of numbers and of lists.
+package check
+
+import "bipole/api"
+
+// First returns the first error of a list of results, or OK.
+func First(errors ...api.Errno) api.Errno {
+	for _, e := range errors {
+		if e != api.OK {
+			return e
+		}
+	}
+	return api.OK
+}
+
+// Each returns the error of the first element that has one, or OK.
+func Each[T any](l []T, check func(T) api.Errno) api.Errno {
+	for _, x := range l {
+		if e := check(x); e != api.OK {
+			return e
+		}
+	}
+	return api.OK
+}
+
+// List returns ErrMany for a list that is too long, and otherwise the error of
+// its first element that has one.
+func List[T any](l []T, most int, check func(T) api.Errno) api.Errno {
+	if len(l) > most {
+		return api.ErrMany
+	}
+	return Each(l, check)
+}
+
+// Range returns ErrRange for a number that is not from low to high.
+func Range(n, low, high int) api.Errno {
+	if n < low || n > high {
+		return api.ErrRange
+	}
+	return api.OK
+}

@@ -1,0 +1,60 @@
+package check_test
+
+import (
+	"math"
+	"testing"
+
+	"bipole/api"
+	"bipole/check"
+)
+
+// P1, P2: the first error decides.
+func TestFirst(t *testing.T) {
+	for _, x := range []struct {
+		l    []api.Errno
+		want api.Errno
+	}{
+		{nil, api.OK},
+		{[]api.Errno{api.OK, api.OK}, api.OK},
+		{[]api.Errno{api.OK, api.ErrRange, api.ErrForm}, api.ErrRange},
+		{[]api.Errno{api.ErrName}, api.ErrName},
+	} {
+		if e := check.First(x.l...); e != x.want {
+			t.Errorf("First of %v: got %v, want %v", x.l, e, x.want)
+		}
+	}
+}
+
+// P1, P2: the first element with an error decides, behind the length of the list.
+func TestLists(t *testing.T) {
+	parity := func(n int) api.Errno {
+		return [3]api.Errno{api.OK, api.ErrForm, api.ErrZero}[n]
+	}
+	for _, x := range []struct {
+		l          []int
+		each, list api.Errno
+	}{
+		{nil, api.OK, api.OK},
+		{[]int{0, 0, 0}, api.OK, api.OK},
+		{[]int{0, 2, 1}, api.ErrZero, api.ErrZero},
+		{[]int{1, 2, 0}, api.ErrForm, api.ErrForm},
+		{[]int{0, 0, 0, 0}, api.OK, api.ErrMany},
+		{[]int{1, 0, 0, 0}, api.ErrForm, api.ErrMany},
+	} {
+		if e := check.Each(x.l, parity); e != x.each {
+			t.Errorf("Each of %v: got %v, want %v", x.l, e, x.each)
+		}
+		if e := check.List(x.l, 3, parity); e != x.list {
+			t.Errorf("List of %v: got %v, want %v", x.l, e, x.list)
+		}
+	}
+}
+
+// P1, P2: both ends are in the range.
+func TestRange(t *testing.T) {
+	for n, want := range map[int]api.Errno{-2: api.OK, 0: api.OK, 3: api.OK, -3: api.ErrRange, 4: api.ErrRange, math.MinInt: api.ErrRange, math.MaxInt: api.ErrRange} {
+		if e := check.Range(n, -2, 3); e != want {
+			t.Errorf("Range of %d: got %v, want %v", n, e, want)
+		}
+	}
+}

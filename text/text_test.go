@@ -1,0 +1,87 @@
+package text_test
+
+import (
+	"slices"
+	"strings"
+	"testing"
+
+	"bipole/api"
+	"bipole/text"
+)
+
+// sums takes a word, a number and an integer from each line, and returns what
+// Read does, with the words and the sums that were taken.
+func sums(s string, most int) (words []string, numbers []int, at int, e api.Errno) {
+	at, e = text.Read(s, most, func(i int, line *text.Line) bool {
+		if i != len(words) {
+			panic("the index is wrong")
+		}
+		word := line.Word()
+		n := line.Number()
+		m := line.Integer()
+		words, numbers = append(words, word), append(numbers, n+m)
+		return word != "unknown"
+	})
+	return words, numbers, at, e
+}
+
+// P1.5, P2.5: lines end with a line feed, words are separated by one space.
+func TestRead(t *testing.T) {
+	words, numbers, lines, e := sums("a 1 2\nb- 30 -4\n", 100)
+	if !slices.Equal(words, []string{"a", "b-"}) || !slices.Equal(numbers, []int{3, 26}) || lines != 2 || e != api.OK {
+		t.Errorf("two lines: got %v, %v, %d, %v", words, numbers, lines, e)
+	}
+	for _, x := range []struct {
+		s  string
+		at int
+		e  api.Errno
+	}{
+		{"", 0, api.OK}, {strings.Repeat("a 1 2\n", 16), 16, api.OK}, {strings.Repeat("a 1 2\n", 17), 0, api.ErrLong}, {strings.Repeat("\n", 101), 0, api.ErrLong}, {strings.Repeat("\n", 100), 0, api.ErrSyntax},
+		{"a 1 2", 0, api.ErrSyntax}, {"a 1 2\na 1 2", 1, api.ErrSyntax}, {"a 1 2\n\n", 1, api.ErrSyntax}, {"a 1 2\n ", 1, api.ErrSyntax}, {"a 1 2\nunknown 1 2\na 1 2\n", 1, api.ErrSyntax},
+		{"a 1\n", 0, api.ErrSyntax}, {"a 1 \n", 0, api.ErrSyntax}, {"a 1 2 \n", 0, api.ErrSyntax}, {"a 1 2 3\n", 0, api.ErrSyntax}, {" a 1 2\n", 0, api.ErrSyntax}, {" 1 2\n", 0, api.ErrSyntax}, {"a  1 2\n", 0, api.ErrSyntax}, {"a\t1 2\n", 0, api.ErrSyntax},
+	} {
+		if _, _, at, e := sums(x.s, 100); at != x.at || e != x.e {
+			t.Errorf("%q: got %d, %v, want %d, %v", x.s, at, e, x.at, x.e)
+		}
+	}
+}
+
+// P1.5, P2.5: integers have one way to be written; only some have a sign.
+func TestIntegers(t *testing.T) {
+	for word, want := range map[string]int{"0": 0, "1": 1, "10": 10, "907": 907, "999999999": 999999999} {
+		if _, numbers, _, e := sums("a "+word+" 0\n", 100); e != api.OK || numbers[0] != want {
+			t.Errorf("the number %q: got %v, %v", word, numbers, e)
+		}
+		if _, numbers, _, e := sums("a 0 "+word+"\n", 100); e != api.OK || numbers[0] != want {
+			t.Errorf("the integer %q: got %v, %v", word, numbers, e)
+		}
+		_, numbers, _, e := sums("a 0 -"+word+"\n", 100)
+		if zero := want == 0; zero != (e == api.ErrSyntax) || !zero && numbers[0] != -want {
+			t.Errorf("the integer -%q: got %v, %v", word, numbers, e)
+		}
+		if _, _, _, e := sums("a -"+word+" 0\n", 100); e != api.ErrSyntax {
+			t.Errorf("the number -%q: got %v", word, e)
+		}
+	}
+	for _, word := range []string{"00", "01", "-01", "-", "--1", "+1", "1-", "1.0", "a", "1a", "٣", "/", ":", "1000000000", "-1000000000", "0000000000"} {
+		_, _, _, e1 := sums("a "+word+" 0\n", 100)
+		_, _, _, e2 := sums("a 0 "+word+"\n", 100)
+		if e1 != api.ErrSyntax || e2 != api.ErrSyntax {
+			t.Errorf("%q: got %v, %v", word, e1, e2)
+		}
+	}
+}
+
+// P2.5: a word has at least one byte, and there are as many as are taken.
+func TestWords(t *testing.T) {
+	for s, want := range map[string]api.Errno{"a b\n": api.OK, "a  \n": api.ErrSyntax, "a \n": api.ErrSyntax, "a\n": api.ErrSyntax, "a b \n": api.ErrSyntax, "a b c\n": api.ErrSyntax, "\xff \t\n": api.OK} {
+		_, e := text.Read(s, 100, func(_ int, line *text.Line) bool {
+			line.Word()
+			line.Word()
+			return true
+		})
+		if e != want {
+			t.Errorf("%q: got %v, want %v", s, e, want)
+		}
+	}
+}
