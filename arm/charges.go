@@ -40,15 +40,6 @@ func copied(a Arm) Arm {
 	return a
 }
 
-// mapped returns for each element of a list what a function makes of it.
-func mapped[T, U any](l []T, f func(T) U) []U {
-	result := make([]U, len(l))
-	for i, x := range l {
-		result[i] = f(x)
-	}
-	return result
-}
-
 // Usable returns the modules that are not bypassed.
 func Usable(a Arm) ([]int, api.Errno) {
 	if e := CheckArm(a); e != api.OK {

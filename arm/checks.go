@@ -17,23 +17,10 @@ func CheckArm(a Arm) api.Errno {
 		return api.ErrMany
 	}
 	return check.First(
-		checkBand(a.Band),
+		check.Interval(a.Band, 0, MaxCharge),
 		check.Range(a.Current, 0, MaxCurrent),
 		checkNumber(a.Limit),
 		checkModules(a.Modules, a.Band))
-}
-
-func checkBand(band api.Interval) api.Errno {
-	ends := [2]int{band.Low, band.High}
-	if e := check.Each(ends[:], checkCharge); e != api.OK {
-		return e
-	}
-	ascending := ends
-	slices.Sort(ascending[:])
-	if ends != ascending {
-		return api.ErrOrder
-	}
-	return api.OK
 }
 
 func checkCharge(charge int) api.Errno {

@@ -6,6 +6,8 @@ import (
 
 	"bipole/api"
 	"bipole/check"
+	"bipole/list"
+	"bipole/whole"
 )
 
 // candidate is a usable module as an order sees it.
@@ -61,7 +63,7 @@ func checkChoice(a Arm, o Order) api.Errno {
 // checkPossible returns the error with which a well-formed order is refused
 // before any charge is asked for, or OK.
 func checkPossible(a Arm, o Order) api.Errno {
-	if absolute(o.Current) > a.Current {
+	if whole.Absolute(o.Current) > a.Current {
 		return api.ErrTrip
 	}
 	if o.Number > len(usableIndices(a)) {
@@ -81,17 +83,13 @@ func needed(a Arm, o Order) int {
 			missing--
 		}
 	}
-	return absolute(missing)
-}
-
-func absolute(n int) int {
-	return max(n, -n)
+	return whole.Absolute(missing)
 }
 
 // choice returns the choice for an order that is possible.
 func choice(a Arm, o Order) []int {
 	l := candidates(a, o)
-	chosen := mapped(l, func(c candidate) bool { return c.on })
+	chosen := list.Mapped(l, func(c candidate) bool { return c.on })
 	resize(chosen, o.Number)
 	exchange(chosen, l, (a.Limit-needed(a, o))/2)
 	var set []int
@@ -184,7 +182,7 @@ func Bound(a Arm, o Order) (int, api.Errno) {
 		return 0, e
 	}
 	if a.Limit >= len(a.Modules) {
-		return max(spread(a), absolute(o.Current)), api.OK
+		return max(spread(a), whole.Absolute(o.Current)), api.OK
 	}
-	return spread(a) + absolute(o.Current), api.OK
+	return spread(a) + whole.Absolute(o.Current), api.OK
 }

@@ -3,6 +3,7 @@ package arm
 import (
 	"bipole/api"
 	"bipole/check"
+	"bipole/list"
 	"bipole/phasor"
 )
 
@@ -72,7 +73,7 @@ func Levels(a Arm, l []float32, amplitude int) ([]int, api.Errno) {
 		return nil, e
 	}
 	usable := len(usableIndices(a))
-	return mapped(l, func(x float32) int {
+	return list.Mapped(l, func(x float32) int {
 		return level(usable, int(16*x), amplitude)
 	}), api.OK
 }

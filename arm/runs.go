@@ -3,6 +3,7 @@ package arm
 import (
 	"bipole/api"
 	"bipole/check"
+	"bipole/list"
 )
 
 // Step returns an arm after an order.
@@ -82,7 +83,7 @@ func work(before, after Arm, current int) int {
 func Log(a Arm, l []Order) ([][]float32, api.Errno) {
 	var rows [][]float32
 	_, _, e := follow(a, l, func(_, after Arm, _ int) {
-		rows = append(rows, mapped(after.Modules, sampleOf))
+		rows = append(rows, list.Mapped(after.Modules, sampleOf))
 	})
 	if e != api.OK {
 		return nil, e

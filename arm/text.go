@@ -2,7 +2,6 @@ package arm
 
 import (
 	"strconv"
-	"strings"
 
 	"bipole/api"
 	"bipole/check"
@@ -23,16 +22,11 @@ func Print(a Arm) (string, api.Errno) {
 	if e := CheckArm(a); e != api.OK {
 		return "", e
 	}
-	s := printed(armWord, strconv.Itoa(a.Band.Low), strconv.Itoa(a.Band.High), strconv.Itoa(a.Current), strconv.Itoa(a.Limit))
+	s := text.Written(armWord, strconv.Itoa(a.Band.Low), strconv.Itoa(a.Band.High), strconv.Itoa(a.Current), strconv.Itoa(a.Limit))
 	for _, m := range a.Modules {
-		s += printed(moduleWord, m.Name, strconv.Itoa(m.Charge), stateOf(m))
+		s += text.Written(moduleWord, m.Name, strconv.Itoa(m.Charge), stateOf(m))
 	}
 	return s, api.OK
-}
-
-// printed returns the line of words.
-func printed(words ...string) string {
-	return strings.Join(words, " ") + "\n"
 }
 
 func stateOf(m Module) string {

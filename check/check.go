@@ -2,7 +2,11 @@
 // several errors, and the limits of numbers and of lists.
 package check
 
-import "bipole/api"
+import (
+	"slices"
+
+	"bipole/api"
+)
 
 // First returns the first error of a list of results, or OK.
 func First(errors ...api.Errno) api.Errno {
@@ -37,6 +41,22 @@ func List[T any](l []T, most int, check func(T) api.Errno) api.Errno {
 func Range(n, low, high int) api.Errno {
 	if n < low || n > high {
 		return api.ErrRange
+	}
+	return api.OK
+}
+
+// Interval returns the error of an interval whose ends are from low to high:
+// ErrRange for the first one that is not, and ErrOrder if they are in a wrong
+// order.
+func Interval(x api.Interval, low, high int) api.Errno {
+	ends := [2]int{x.Low, x.High}
+	if e := First(Range(x.Low, low, high), Range(x.High, low, high)); e != api.OK {
+		return e
+	}
+	ascending := ends
+	slices.Sort(ascending[:])
+	if ends != ascending {
+		return api.ErrOrder
 	}
 	return api.OK
 }

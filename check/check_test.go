@@ -58,3 +58,19 @@ func TestRange(t *testing.T) {
 		}
 	}
 }
+
+// P2.1, P3.3: both ends are asked for before their order.
+func TestInterval(t *testing.T) {
+	for _, x := range []struct {
+		low, high int
+		want      api.Errno
+	}{
+		{-2, 3, api.OK}, {3, 3, api.OK}, {-2, -2, api.OK}, {0, 1, api.OK},
+		{1, 0, api.ErrOrder}, {3, -2, api.ErrOrder},
+		{-3, 0, api.ErrRange}, {0, 4, api.ErrRange}, {4, 0, api.ErrRange}, {0, -3, api.ErrRange}, {math.MinInt, 0, api.ErrRange}, {0, math.MaxInt, api.ErrRange}, {math.MaxInt, math.MinInt, api.ErrRange},
+	} {
+		if e := check.Interval(api.Interval{Low: x.low, High: x.high}, -2, 3); e != x.want {
+			t.Errorf("Interval from %d to %d: got %v, want %v", x.low, x.high, e, x.want)
+		}
+	}
+}

@@ -5,6 +5,7 @@ import (
 
 	"bipole/api"
 	"bipole/check"
+	"bipole/whole"
 )
 
 // The remainders by which a permutation is drawn.
@@ -57,18 +58,10 @@ func CheckRatio(x api.Ratio) api.Errno {
 	if e := check.First(check.Range(x.Num, -api.MaxNumber, api.MaxNumber), check.Range(x.Den, 1, api.MaxNumber)); e != api.OK {
 		return e
 	}
-	if divisor(x.Num, x.Den) > 1 {
+	if whole.Divisor(x.Num, x.Den) > 1 {
 		return api.ErrForm
 	}
 	return api.OK
-}
-
-// divisor returns the greatest common divisor of an integer and one above 0.
-func divisor(a, b int) int {
-	for a != 0 {
-		a, b = b%a, a
-	}
-	return max(b, -b)
 }
 
 // CheckSample returns the error of a sample, or OK.

@@ -3,6 +3,7 @@ package phasor
 import (
 	"bipole/api"
 	"bipole/check"
+	"bipole/whole"
 )
 
 // CheckEisen returns the error of a number, or OK.
@@ -71,15 +72,11 @@ func Framed(l []api.Eisen, sixths int) ([]api.Eisen, api.Errno) {
 
 // limited returns a result, or ErrLarge if the limits of its parts change it.
 func limited(x api.Eisen) (api.Eisen, api.Errno) {
-	within := api.Eisen{A: clamped(x.A), B: clamped(x.B)}
+	within := api.Eisen{A: whole.Clamped(x.A, api.MaxPart), B: whole.Clamped(x.B, api.MaxPart)}
 	if within != x {
 		return api.Eisen{}, api.ErrLarge
 	}
 	return x, api.OK
-}
-
-func clamped(part int) int {
-	return min(max(part, -api.MaxPart), api.MaxPart)
 }
 
 func sum(a, b api.Eisen) api.Eisen {
@@ -97,13 +94,8 @@ func conjugate(x api.Eisen) api.Eisen {
 // turn returns a number turned by some sixths. Six of them are none, so it
 // never counts more than five.
 func turn(x api.Eisen, sixths int) api.Eisen {
-	for range remainder(sixths, 6) {
+	for range whole.Remainder(sixths, 6) {
 		x = api.Eisen{A: x.A - x.B, B: x.A}
 	}
 	return x
-}
-
-// remainder returns n modulo m, from 0 on also for n below 0.
-func remainder(n, m int) int {
-	return (n%m + m) % m
 }

@@ -3,6 +3,7 @@ package phasor
 import (
 	"bipole/api"
 	"bipole/check"
+	"bipole/whole"
 )
 
 // powers is the powers of -i, from the power of 0 on.
@@ -104,7 +105,7 @@ func checkEntry(x complex64) api.Errno {
 // timesPower returns a function that multiplies by a power of -i each time.
 func timesPower(n int) func(complex64, int) complex64 {
 	return func(x complex64, times int) complex64 {
-		power := powers[remainder(n*times, 4)]
+		power := powers[whole.Remainder(n*times, 4)]
 		return x * complex(float32(power.Re), float32(power.Im))
 	}
 }

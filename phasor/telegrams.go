@@ -6,6 +6,7 @@ import (
 
 	"bipole/api"
 	"bipole/check"
+	"bipole/whole"
 )
 
 // CheckTelegram returns the error of a telegram, or OK.
@@ -123,5 +124,5 @@ search:
 
 // following returns the counter after another one.
 func following(counter int) int {
-	return remainder(counter+1, math.MaxUint16+1)
+	return whole.Remainder(counter+1, math.MaxUint16+1)
 }

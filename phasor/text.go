@@ -1,7 +1,6 @@
 package phasor
 
 import (
-	"strconv"
 	"strings"
 
 	"bipole/api"
@@ -18,11 +17,7 @@ func Print(l []Telegram) (string, api.Errno) {
 	}
 	var lines strings.Builder
 	for _, t := range l {
-		lines.WriteString(telegramWord)
-		for _, n := range numbersOf(t) {
-			lines.WriteString(" " + strconv.Itoa(n))
-		}
-		lines.WriteString("\n")
+		lines.WriteString(text.Numbered(telegramWord, numbersOf(t)))
 	}
 	return lines.String(), api.OK
 }

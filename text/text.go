@@ -3,9 +3,11 @@
 package text
 
 import (
+	"strconv"
 	"strings"
 
 	"bipole/api"
+	"bipole/list"
 )
 
 // maxDigits is the number of the digits that an integer may have.
@@ -32,6 +34,16 @@ func Read(s string, most int, read func(i int, line *Line) bool) (int, api.Errno
 	return lines, api.OK
 }
 
+// Written returns the line of words.
+func Written(words ...string) string {
+	return strings.Join(words, " ") + "\n"
+}
+
+// Numbered returns the line of a word and the integers behind it.
+func Numbered(word string, numbers []int) string {
+	return Written(append([]string{word}, list.Mapped(numbers, strconv.Itoa)...)...)
+}
+
 // Line is the words of a line that are still to be taken.
 type Line struct {
 	rest  string
@@ -41,6 +53,11 @@ type Line struct {
 
 func (l *Line) isDone() bool {
 	return l.over && !l.wrong
+}
+
+// More reports whether a word is left to be taken.
+func (l *Line) More() bool {
+	return !l.over
 }
 
 // Word takes the next word, which has at least one byte.

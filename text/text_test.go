@@ -85,3 +85,39 @@ func TestWords(t *testing.T) {
 		}
 	}
 }
+
+// P3.5: a line may have any number of words.
+func TestMore(t *testing.T) {
+	for s, want := range map[string]struct {
+		n int
+		e api.Errno
+	}{
+		"1\n": {1, api.OK}, "1 2\n": {3, api.OK}, "1 -2 30\n": {29, api.OK}, strings.Repeat("1 ", 1000) + "1\n": {1001, api.OK},
+		"\n": {0, api.ErrSyntax}, "1 \n": {1, api.ErrSyntax}, "1  2\n": {3, api.ErrSyntax}, " 1\n": {1, api.ErrSyntax}, "1 2": {0, api.ErrSyntax},
+	} {
+		n := 0
+		_, e := text.Read(s, 4096, func(_ int, line *text.Line) bool {
+			for line.More() {
+				n += line.Integer()
+			}
+			return true
+		})
+		if n != want.n || e != want.e {
+			t.Errorf("%q: got %d, %v, want %d, %v", s, n, e, want.n, want.e)
+		}
+	}
+}
+
+// P1.5, P2.5, P3.5: lines are written as they are read.
+func TestWritten(t *testing.T) {
+	for got, want := range map[string]string{
+		text.Written("a"):                      "a\n",
+		text.Written("a", "b-", "1"):           "a b- 1\n",
+		text.Numbered("a", nil):                "a\n",
+		text.Numbered("a", []int{0, -10, 907}): "a 0 -10 907\n",
+	} {
+		if got != want {
+			t.Errorf("got %q, want %q", got, want)
+		}
+	}
+}

@@ -1,0 +1,35 @@
+// Package whole has what the layers compute with integers alone.
+package whole
+
+// Absolute returns the absolute value of an integer.
+func Absolute(n int) int {
+	return max(n, -n)
+}
+
+// Clamped returns the integer from -most to most that is nearest to n.
+func Clamped(n, most int) int {
+	return min(max(n, -most), most)
+}
+
+// Remainder returns n modulo m, from 0 on also for n below 0.
+func Remainder(n, m int) int {
+	return (n%m + m) % m
+}
+
+// Divisor returns the greatest common divisor of two integers, and 0 if both
+// are 0.
+func Divisor(a, b int) int {
+	for a != 0 {
+		a, b = b%a, a
+	}
+	return Absolute(b)
+}
+
+// Power returns n to a power from 0 on.
+func Power(n, exponent int) int {
+	power := 1
+	for range exponent {
+		power *= n
+	}
+	return power
+}

@@ -1,0 +1,56 @@
+package whole_test
+
+import (
+	"testing"
+
+	"bipole/whole"
+)
+
+// is fails a test if a result is not the expected one.
+func is(t *testing.T, what string, got, want int) {
+	t.Helper()
+	if got != want {
+		t.Errorf("%s: got %d, want %d", what, got, want)
+	}
+}
+
+// P1.2, P2.2, P3.2: absolute values and limits.
+func TestAbsolute(t *testing.T) {
+	for n, want := range map[int]int{0: 0, 1: 1, -1: 1, 1 << 61: 1 << 61, -1 << 61: 1 << 61} {
+		is(t, "Absolute", whole.Absolute(n), want)
+	}
+	for n, want := range map[int]int{0: 0, 4: 4, 5: 5, 6: 5, 1 << 62: 5, -4: -4, -5: -5, -6: -5, -1 << 63: -5} {
+		is(t, "Clamped", whole.Clamped(n, 5), want)
+	}
+}
+
+// P1.2, P3.4: a remainder is never below 0.
+func TestRemainder(t *testing.T) {
+	for n, want := range map[int]int{0: 0, 1: 1, 5: 5, 6: 0, 13: 1, -1: 5, -5: 1, -6: 0, -7: 5, -13: 5} {
+		is(t, "Remainder", whole.Remainder(n, 6), want)
+	}
+	is(t, "Remainder of 1", whole.Remainder(-3, 1), 0)
+}
+
+// P1.1, P3.2: the divisor is the greatest number that divides both.
+func TestDivisor(t *testing.T) {
+	is(t, "of 0 and 0", whole.Divisor(0, 0), 0)
+	for a := -30; a <= 30; a++ {
+		for b := -30; b <= 30; b++ {
+			want := 0
+			for d := 1; d <= 30; d++ {
+				if (a != 0 || b != 0) && a%d == 0 && b%d == 0 {
+					want = d
+				}
+			}
+			is(t, "Divisor", whole.Divisor(a, b), want)
+		}
+	}
+}
+
+// P3.2, P3.4
+func TestPower(t *testing.T) {
+	for _, x := range [][3]int{{0, 0, 1}, {7, 0, 1}, {7, 1, 7}, {-2, 3, -8}, {-2, 4, 16}, {0, 2, 0}, {100, 3, 1000000}} {
+		is(t, "Power", whole.Power(x[0], x[1]), x[2])
+	}
+}
