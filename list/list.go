@@ -9,3 +9,15 @@ func Mapped[T, U any](l []T, f func(T) U) []U {
 	}
 	return result
 }
+
+// Transformed returns for each index k the sum over m of the element m, turned
+// k m times.
+func Transformed[T any](l []T, turned func(x T, times int) T, plus func(a, b T) T) []T {
+	result := make([]T, len(l))
+	for k := range len(l) {
+		for m := range len(l) {
+			result[k] = plus(result[k], turned(l[m], k*m))
+		}
+	}
+	return result
+}

@@ -1,6 +1,7 @@
 package list_test
 
 import (
+	"fmt"
 	"slices"
 	"strconv"
 	"testing"
@@ -21,5 +22,22 @@ func TestMapped(t *testing.T) {
 	}
 	if got := list.Mapped(nil, strconv.Itoa); len(got) != 0 {
 		t.Errorf("texts of nothing: got %v", got)
+	}
+}
+
+// P1.4, P4.2: the element m is turned k m times for the index k, and all are
+// added from left to right.
+func TestTransformed(t *testing.T) {
+	l := []string{"a", "b", "c"}
+	turned := func(x string, times int) string { return fmt.Sprint(x, times, " ") }
+	plus := func(a, b string) string { return a + b }
+	if got, want := list.Transformed(l, turned, plus), []string{"a0 b0 c0 ", "a0 b1 c2 ", "a0 b2 c4 "}; !slices.Equal(got, want) {
+		t.Errorf("transformed %v: got %q, want %q", l, got, want)
+	}
+	if !slices.Equal(l, []string{"a", "b", "c"}) {
+		t.Errorf("the argument is changed: got %v", l)
+	}
+	if got := list.Transformed(nil, turned, plus); len(got) != 0 {
+		t.Errorf("transformed nothing: got %v", got)
 	}
 }

@@ -3,6 +3,7 @@ package phasor
 import (
 	"bipole/api"
 	"bipole/check"
+	"bipole/eisen"
 	"bipole/whole"
 )
 
@@ -27,7 +28,7 @@ func Add(a, b api.Eisen) (api.Eisen, api.Errno) {
 	if e := check.First(CheckEisen(a), CheckEisen(b)); e != api.OK {
 		return api.Eisen{}, e
 	}
-	return limited(sum(a, b))
+	return limited(eisen.Sum(a, b))
 }
 
 // Mul returns the product of two numbers.
@@ -35,7 +36,7 @@ func Mul(a, b api.Eisen) (api.Eisen, api.Errno) {
 	if e := check.First(CheckEisen(a), CheckEisen(b)); e != api.OK {
 		return api.Eisen{}, e
 	}
-	return limited(product(a, b))
+	return limited(eisen.Product(a, b))
 }
 
 // Turned returns a number turned by some sixths.
@@ -51,7 +52,7 @@ func Norm(x api.Eisen) (int, api.Errno) {
 	if e := CheckEisen(x); e != api.OK {
 		return 0, e
 	}
-	return x.A*x.A - x.A*x.B + x.B*x.B, api.OK
+	return eisen.Norm(x), api.OK
 }
 
 // Framed returns a list in a frame that turns.
@@ -77,18 +78,6 @@ func limited(x api.Eisen) (api.Eisen, api.Errno) {
 		return api.Eisen{}, api.ErrLarge
 	}
 	return x, api.OK
-}
-
-func sum(a, b api.Eisen) api.Eisen {
-	return api.Eisen{A: a.A + b.A, B: a.B + b.B}
-}
-
-func product(a, b api.Eisen) api.Eisen {
-	return api.Eisen{A: a.A*b.A - a.B*b.B, B: a.A*b.B + a.B*b.A - a.B*b.B}
-}
-
-func conjugate(x api.Eisen) api.Eisen {
-	return api.Eisen{A: x.A - x.B, B: -x.B}
 }
 
 // turn returns a number turned by some sixths. Six of them are none, so it

@@ -3,6 +3,8 @@ package phasor
 import (
 	"bipole/api"
 	"bipole/check"
+	"bipole/eisen"
+	"bipole/list"
 )
 
 // third is the sixths by which w turns a number.
@@ -26,7 +28,7 @@ func Components(p Phases) ([3]api.Eisen, api.Errno) {
 }
 
 func components(p Phases) [3]api.Eisen {
-	return [3]api.Eisen(transformed(p[:], turnedBy(third), sum))
+	return [3]api.Eisen(list.Transformed(p[:], turnedBy(third), eisen.Sum))
 }
 
 // Restored returns the phases of components.
@@ -34,7 +36,7 @@ func Restored(c [3]api.Eisen) (Phases, api.Errno) {
 	if e := check.Each(c[:], CheckEisen); e != api.OK {
 		return Phases{}, e
 	}
-	p := Phases(divided(transformed(c[:], turnedBy(-third), sum), 3))
+	p := Phases(divided(list.Transformed(c[:], turnedBy(-third), eisen.Sum), 3))
 	// Where a division left a rest, the phases have other components.
 	if CheckPhases(p) != api.OK || components(p) != c {
 		return Phases{}, api.ErrForm
@@ -58,7 +60,7 @@ func Power(u, i Phases) (api.Eisen, int, api.Errno) {
 	}
 	power := api.Eisen{}
 	for phase, voltage := range u {
-		power = sum(power, product(voltage, conjugate(i[phase])))
+		power = eisen.Sum(power, eisen.Product(voltage, eisen.Conjugate(i[phase])))
 	}
 	return power, 2*power.A - power.B, api.OK
 }

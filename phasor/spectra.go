@@ -3,23 +3,13 @@ package phasor
 import (
 	"bipole/api"
 	"bipole/check"
+	"bipole/eisen"
+	"bipole/list"
 	"bipole/whole"
 )
 
 // powers is the powers of -i, from the power of 0 on.
 var powers = [4]api.Gauss{{Re: 1, Im: 0}, {Re: 0, Im: -1}, {Re: -1, Im: 0}, {Re: 0, Im: 1}}
-
-// transformed returns for each index k the sum over m of the element m, turned
-// k m times.
-func transformed[T any](l []T, turned func(x T, times int) T, plus func(a, b T) T) []T {
-	result := make([]T, len(l))
-	for k := range len(l) {
-		for m := range len(l) {
-			result[k] = plus(result[k], turned(l[m], k*m))
-		}
-	}
-	return result
-}
 
 // turnedBy returns a function that turns numbers by some sixths each time.
 func turnedBy(sixths int) func(api.Eisen, int) api.Eisen {
@@ -46,7 +36,7 @@ func Spectrum(l [6]api.Eisen) ([6]api.Eisen, api.Errno) {
 }
 
 func spectrum(l [6]api.Eisen) [6]api.Eisen {
-	return [6]api.Eisen(transformed(l[:], turnedBy(-1), sum))
+	return [6]api.Eisen(list.Transformed(l[:], turnedBy(-1), eisen.Sum))
 }
 
 // Steps returns the steps of a spectrum.
@@ -54,7 +44,7 @@ func Steps(s [6]api.Eisen) ([6]api.Eisen, api.Errno) {
 	if e := check.Each(s[:], CheckEisen); e != api.OK {
 		return [6]api.Eisen{}, e
 	}
-	l := [6]api.Eisen(divided(transformed(s[:], turnedBy(1), sum), 6))
+	l := [6]api.Eisen(divided(list.Transformed(s[:], turnedBy(1), eisen.Sum), 6))
 	// Where a division left a rest, the steps have another spectrum.
 	if check.Each(l[:], checkPhase) != api.OK || spectrum(l) != s {
 		return [6]api.Eisen{}, api.ErrForm
@@ -77,7 +67,7 @@ func four(l [4]float32) [4]complex64 {
 	for m, x := range l {
 		numbers[m] = complex(x, 0)
 	}
-	return [4]complex64(transformed(numbers[:], timesPower(1), plus))
+	return [4]complex64(list.Transformed(numbers[:], timesPower(1), plus))
 }
 
 // Unfour returns the samples of a panel.
@@ -86,7 +76,7 @@ func Unfour(p [4]complex64) ([4]float32, api.Errno) {
 		return [4]float32{}, e
 	}
 	var samples [4]float32
-	for m, x := range transformed(p[:], timesPower(-1), plus) {
+	for m, x := range list.Transformed(p[:], timesPower(-1), plus) {
 		samples[m] = real(x) / 4
 	}
 	// Where a number was not real, the samples have another transform.
