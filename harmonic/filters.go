@@ -58,16 +58,7 @@ func susceptance(f Filter, h int) api.Ratio {
 		d := b.detuned(h)
 		num, den = num*d+h*den, den*d
 	}
-	return lowest(num, den)
-}
-
-// lowest returns the ratio of two integers, of which the second one is not 0.
-func lowest(num, den int) api.Ratio {
-	divisor := whole.Divisor(num, den)
-	if den < 0 {
-		divisor = -divisor
-	}
-	return api.Ratio{Num: num / divisor, Den: den / divisor}
+	return whole.Lowest(num, den)
 }
 
 // Resonances returns the resonances of a filter.

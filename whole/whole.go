@@ -1,5 +1,7 @@
-// Package whole has what the layers compute with integers alone.
+// Package whole has what the layers compute with integers and their ratios.
 package whole
+
+import "bipole/api"
 
 // Absolute returns the absolute value of an integer.
 func Absolute(n int) int {
@@ -32,4 +34,19 @@ func Power(n, exponent int) int {
 		power *= n
 	}
 	return power
+}
+
+// Lowest returns the ratio of two integers, of which the second one is not 0.
+func Lowest(num, den int) api.Ratio {
+	divisor := Divisor(num, den)
+	if den < 0 {
+		divisor = -divisor
+	}
+	return api.Ratio{Num: num / divisor, Den: den / divisor}
+}
+
+// RoundedUp returns the least integer that is not below n / by, for n from 0 on
+// and by above 0.
+func RoundedUp(n, by int) int {
+	return (n + by - 1) / by
 }

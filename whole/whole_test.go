@@ -3,6 +3,7 @@ package whole_test
 import (
 	"testing"
 
+	"bipole/api"
 	"bipole/whole"
 )
 
@@ -52,5 +53,38 @@ func TestDivisor(t *testing.T) {
 func TestPower(t *testing.T) {
 	for _, x := range [][3]int{{0, 0, 1}, {7, 0, 1}, {7, 1, 7}, {-2, 3, -8}, {-2, 4, 16}, {0, 2, 0}, {100, 3, 1000000}} {
 		is(t, "Power", whole.Power(x[0], x[1]), x[2])
+	}
+}
+
+// P4.4, P5.1: a ratio has the value of its integers, in lowest terms.
+func TestLowest(t *testing.T) {
+	for num := -30; num <= 30; num++ {
+		for den := -30; den <= 30; den++ {
+			if den == 0 {
+				continue
+			}
+			x := whole.Lowest(num, den)
+			is(t, "the value", x.Num*den, num*x.Den)
+			is(t, "the common divisor", whole.Divisor(x.Num, x.Den), 1)
+			if x.Den < 1 {
+				t.Errorf("Lowest(%d, %d): got %v", num, den, x)
+			}
+		}
+	}
+	if x := whole.Lowest(-1<<60, 1<<61); x != (api.Ratio{Num: -1, Den: 2}) {
+		t.Errorf("a large ratio: got %v", x)
+	}
+}
+
+// P5.2, P5.3
+func TestRoundedUp(t *testing.T) {
+	for n := range 100 {
+		for by := 1; by <= 30; by++ {
+			want := 0
+			for want*by < n {
+				want++
+			}
+			is(t, "RoundedUp", whole.RoundedUp(n, by), want)
+		}
 	}
 }
