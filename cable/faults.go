@@ -7,7 +7,7 @@ import (
 
 // CheckFault returns the first error of a fault, or OK.
 func CheckFault(c Cable, f Fault) api.Errno {
-	if e := check.First(CheckCable(c), checkIndex(c, f.Section)); e != api.OK {
+	if e := check.First(CheckCable(c), check.Index(f.Section, len(c.Sections))); e != api.OK {
 		return e
 	}
 	e := check.First(

@@ -41,15 +41,6 @@ func checkEnds(factors [2]int) api.Errno {
 	return api.OK
 }
 
-// checkIndex returns ErrUnknown for the index of a section that a cable does not
-// have.
-func checkIndex(c Cable, section int) api.Errno {
-	if section < 0 || section >= len(c.Sections) {
-		return api.ErrUnknown
-	}
-	return api.OK
-}
-
 // Length returns the length and the delay of a cable.
 func Length(c Cable) ([2]int, api.Errno) {
 	if e := CheckCable(c); e != api.OK {
@@ -98,7 +89,7 @@ func copied(c Cable) Cable {
 
 // Split returns a cable in which a section is split in two.
 func Split(c Cable, section, ticks int) (Cable, api.Errno) {
-	if e := check.First(CheckCable(c), checkIndex(c, section)); e != api.OK {
+	if e := check.First(CheckCable(c), check.Index(section, len(c.Sections))); e != api.OK {
 		return Cable{}, e
 	}
 	old := c.Sections[section]

@@ -9,7 +9,7 @@ import (
 
 // Factor returns by what a wave from a section is multiplied until it reaches an end.
 func Factor(c Cable, section int, end string) (api.Ratio, api.Errno) {
-	if e := check.First(CheckCable(c), checkIndex(c, section), checkEnd(end)); e != api.OK {
+	if e := check.First(CheckCable(c), check.Index(section, len(c.Sections)), checkEnd(end)); e != api.OK {
 		return api.Ratio{}, e
 	}
 	return whole.Lowest(c.factor(section, end), Unit), api.OK

@@ -45,6 +45,15 @@ func Range(n, low, high int) api.Errno {
 	return api.OK
 }
 
+// Index returns ErrUnknown for the index of an element that a list of n elements
+// does not have.
+func Index(i, n int) api.Errno {
+	if i < 0 || i >= n {
+		return api.ErrUnknown
+	}
+	return api.OK
+}
+
 // Interval returns the error of an interval whose ends are from low to high:
 // ErrRange for the first one that is not, and ErrOrder if they are in a wrong
 // order.

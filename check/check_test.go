@@ -59,6 +59,18 @@ func TestRange(t *testing.T) {
 	}
 }
 
+// P3.4, P4.4, P4.5, P5.3, P6.1: elements are numbered from 0 on.
+func TestIndex(t *testing.T) {
+	for i, want := range map[int]api.Errno{0: api.OK, 2: api.OK, -1: api.ErrUnknown, 3: api.ErrUnknown, math.MinInt: api.ErrUnknown, math.MaxInt: api.ErrUnknown} {
+		if e := check.Index(i, 3); e != want {
+			t.Errorf("Index of %d: got %v, want %v", i, e, want)
+		}
+		if e := check.Index(i, 0); e != api.ErrUnknown {
+			t.Errorf("Index of %d in nothing: got %v", i, e)
+		}
+	}
+}
+
 // P2.1, P3.3: both ends are asked for before their order.
 func TestInterval(t *testing.T) {
 	for _, x := range []struct {

@@ -109,7 +109,7 @@ func power(x Rules, from int, followed []leg, tick int) int {
 
 // Latest returns the tick at which the ramp to an order begins.
 func Latest(x Rules, from int, l []Order, order int) (int, api.Errno) {
-	if e := check.First(checkPlan(x, from, l), checkIndex(order, len(l))); e != api.OK {
+	if e := check.First(checkPlan(x, from, l), check.Index(order, len(l))); e != api.OK {
 		return 0, e
 	}
 	followed := legs(from, l[:order+1])
@@ -118,13 +118,4 @@ func Latest(x Rules, from int, l []Order, order int) (int, api.Errno) {
 	}
 	last := followed[order]
 	return last.Tick - whole.RoundedUp(last.change(), x.Rate), api.OK
-}
-
-// checkIndex returns ErrUnknown for the index of an order that none of n orders
-// has.
-func checkIndex(order, n int) api.Errno {
-	if order < 0 || order >= n {
-		return api.ErrUnknown
-	}
-	return api.OK
 }

@@ -79,19 +79,10 @@ func isResonance(f Filter, h int) bool {
 
 // Tapped returns a filter that is tapped at a branch.
 func Tapped(f Filter, branch, tap int) (Filter, api.Errno) {
-	if e := check.First(CheckFilter(f), checkIndex(f, branch), check.Range(tap, -MaxTap, MaxTap)); e != api.OK {
+	if e := check.First(CheckFilter(f), check.Index(branch, len(f.Branches)), check.Range(tap, -MaxTap, MaxTap)); e != api.OK {
 		return Filter{}, e
 	}
 	return tapped(f, branch, tap)
-}
-
-// checkIndex returns ErrUnknown for the index of a branch that a filter does not
-// have.
-func checkIndex(f Filter, branch int) api.Errno {
-	if branch < 0 || branch >= len(f.Branches) {
-		return api.ErrUnknown
-	}
-	return api.OK
 }
 
 // tapped returns a filter that is tapped at a branch, or ErrLarge if this is

@@ -58,11 +58,8 @@ func Edge(f Filter, l []api.Gauss, h int) (int, api.Errno) {
 
 // CheckEdge returns OK for an edge that separates a filter and a polygon at an order.
 func CheckEdge(f Filter, l []api.Gauss, h, edge int) api.Errno {
-	if e := checkMeeting(f, l, h); e != api.OK {
+	if e := check.First(checkMeeting(f, l, h), check.Index(edge, len(l))); e != api.OK {
 		return e
-	}
-	if edge < 0 || edge >= len(l) {
-		return api.ErrUnknown
 	}
 	if isTuned(f, h) || side(l, edge, opposite(f, h)) < 0 {
 		return api.OK
@@ -91,7 +88,7 @@ func taps() []tap {
 
 // Avoid returns the tap that avoids a polygon at some orders.
 func Avoid(f Filter, branch int, l []api.Gauss, orders []int) (int, api.Errno) {
-	if e := check.First(CheckFilter(f), checkIndex(f, branch), CheckPolygon(l), checkOrders(orders)); e != api.OK {
+	if e := check.First(CheckFilter(f), check.Index(branch, len(f.Branches)), CheckPolygon(l), checkOrders(orders)); e != api.OK {
 		return 0, e
 	}
 search:

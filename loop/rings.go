@@ -16,17 +16,9 @@ func CheckRing(r Ring) api.Errno {
 	})
 }
 
-// checkPhase returns ErrUnknown for a phase that none of n phases is.
-func checkPhase(phase, n int) api.Errno {
-	if phase < 0 || phase >= n {
-		return api.ErrUnknown
-	}
-	return api.OK
-}
-
 // Made returns the ring that steps towards a phase.
 func Made(n, phase, most int) (Ring, api.Errno) {
-	if e := check.First(check.Range(n, 1, MaxRing), checkPhase(phase, n), check.Range(most, 1, MaxRing)); e != api.OK {
+	if e := check.First(check.Range(n, 1, MaxRing), check.Index(phase, n), check.Range(most, 1, MaxRing)); e != api.OK {
 		return nil, e
 	}
 	ring := make(Ring, n)
@@ -43,7 +35,7 @@ func Made(n, phase, most int) (Ring, api.Errno) {
 
 // Basin returns the phases from which a ring falls into a phase.
 func Basin(r Ring, phase int) ([]int, api.Errno) {
-	if e := check.First(CheckRing(r), checkPhase(phase, len(r))); e != api.OK {
+	if e := check.First(CheckRing(r), check.Index(phase, len(r))); e != api.OK {
 		return nil, e
 	}
 	var basin []int
@@ -70,7 +62,7 @@ func falling(r Ring, from, phase int) (int, bool) {
 
 // Locks returns after how many steps a ring falls into a phase from another one.
 func Locks(r Ring, from, phase int) (int, api.Errno) {
-	if e := check.First(CheckRing(r), checkPhase(from, len(r)), checkPhase(phase, len(r))); e != api.OK {
+	if e := check.First(CheckRing(r), check.Index(from, len(r)), check.Index(phase, len(r))); e != api.OK {
 		return 0, e
 	}
 	steps, falls := falling(r, from, phase)
@@ -82,7 +74,7 @@ func Locks(r Ring, from, phase int) (int, api.Errno) {
 
 // CheckBasin returns OK for numbers that prove that all phases fall into a phase.
 func CheckBasin(r Ring, phase int, numbers []int) api.Errno {
-	if e := check.First(CheckRing(r), checkPhase(phase, len(r))); e != api.OK {
+	if e := check.First(CheckRing(r), check.Index(phase, len(r))); e != api.OK {
 		return e
 	}
 	if len(numbers) != len(r) {
