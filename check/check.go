@@ -37,6 +37,21 @@ func List[T any](l []T, most int, check func(T) api.Errno) api.Errno {
 	return Each(l, check)
 }
 
+// Successive returns ErrMany for a list that is too long, and otherwise the error
+// of its first element that has one, each of them asked together with those
+// before it.
+func Successive[T any](l []T, most int, check func(before []T, x T) api.Errno) api.Errno {
+	if len(l) > most {
+		return api.ErrMany
+	}
+	for i, x := range l {
+		if e := check(l[:i], x); e != api.OK {
+			return e
+		}
+	}
+	return api.OK
+}
+
 // Range returns ErrRange for a number that is not from low to high.
 func Range(n, low, high int) api.Errno {
 	if n < low || n > high {

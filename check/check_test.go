@@ -50,6 +50,29 @@ func TestLists(t *testing.T) {
 	}
 }
 
+// P7.1, P7.4: each element is asked together with those before it, behind the length
+// of the list.
+func TestSuccessive(t *testing.T) {
+	ascending := func(before []int, n int) api.Errno {
+		for _, b := range before {
+			if b >= n {
+				return api.ErrOrder
+			}
+		}
+		return check.Range(n, 0, 9)
+	}
+	for _, x := range []struct {
+		l    []int
+		want api.Errno
+	}{
+		{nil, api.OK}, {[]int{5}, api.OK}, {[]int{0, 4, 9}, api.OK}, {[]int{0, 4, 4}, api.ErrOrder}, {[]int{5, 9, 5}, api.ErrOrder}, {[]int{10}, api.ErrRange}, {[]int{5, 10, 5}, api.ErrRange}, {[]int{5, 5, 10}, api.ErrOrder}, {[]int{0, 1, 2, 3}, api.ErrMany}, {[]int{10, 0, 0, 0}, api.ErrMany},
+	} {
+		if e := check.Successive(x.l, 3, ascending); e != x.want {
+			t.Errorf("Successive of %v: got %v, want %v", x.l, e, x.want)
+		}
+	}
+}
+
 // P1, P2: both ends are in the range.
 func TestRange(t *testing.T) {
 	for n, want := range map[int]api.Errno{-2: api.OK, 0: api.OK, 3: api.OK, -3: api.ErrRange, 4: api.ErrRange, math.MinInt: api.ErrRange, math.MaxInt: api.ErrRange} {
@@ -59,7 +82,7 @@ func TestRange(t *testing.T) {
 	}
 }
 
-// P3.4, P4.4, P4.5, P5.3, P6.1: elements are numbered from 0 on.
+// P3.4, P4.4, P4.5, P5.3, P6.1, P7.4: elements are numbered from 0 on.
 func TestIndex(t *testing.T) {
 	for i, want := range map[int]api.Errno{0: api.OK, 2: api.OK, -1: api.ErrUnknown, 3: api.ErrUnknown, math.MinInt: api.ErrUnknown, math.MaxInt: api.ErrUnknown} {
 		if e := check.Index(i, 3); e != want {

@@ -8,6 +8,15 @@ func Absolute(n int) int {
 	return max(n, -n)
 }
 
+// Sum returns the sum of integers.
+func Sum(l []int) int {
+	sum := 0
+	for _, n := range l {
+		sum += n
+	}
+	return sum
+}
+
 // Clamped returns the integer from -most to most that is nearest to n.
 func Clamped(n, most int) int {
 	return min(max(n, -most), most)

@@ -25,6 +25,13 @@ func TestAbsolute(t *testing.T) {
 	}
 }
 
+// P7.1, P7.5
+func TestSum(t *testing.T) {
+	is(t, "Sum of nothing", whole.Sum(nil), 0)
+	is(t, "Sum of one", whole.Sum([]int{-5}), -5)
+	is(t, "Sum of many", whole.Sum([]int{1 << 40, -3, 0, 10}), 1<<40+7)
+}
+
 // P1.2, P3.4: a remainder is never below 0.
 func TestRemainder(t *testing.T) {
 	for n, want := range map[int]int{0: 0, 1: 1, 5: 5, 6: 0, 13: 1, -1: 5, -5: 1, -6: 0, -7: 5, -13: 5} {
