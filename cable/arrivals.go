@@ -149,5 +149,5 @@ func Record(c Cable, f Fault, end string, window int) ([]float32, api.Errno) {
 // it is rounded to the greater one, also below 0.
 func sample(height int) float32 {
 	up := height + sixteenth/2
-	return float32((up-whole.Remainder(up, sixteenth))/sixteenth) / 16
+	return float32(whole.RoundedDown(up, sixteenth)) / 16
 }

@@ -6,6 +6,7 @@ import (
 	"slices"
 
 	"bipole/api"
+	"bipole/list"
 )
 
 // First returns the first error of a list of results, or OK.
@@ -16,6 +17,14 @@ func First(errors ...api.Errno) api.Errno {
 		}
 	}
 	return api.OK
+}
+
+// That returns an error, or OK if something holds.
+func That(holds bool, e api.Errno) api.Errno {
+	if holds {
+		return api.OK
+	}
+	return e
 }
 
 // Each returns the error of the first element that has one, or OK.
@@ -50,6 +59,11 @@ func Successive[T any](l []T, most int, check func(before []T, x T) api.Errno) a
 		}
 	}
 	return api.OK
+}
+
+// Once returns ErrTwice for an element that has the same key as one before it.
+func Once[T any, K comparable](before []T, x T, key func(T) K) api.Errno {
+	return That(!slices.Contains(list.Mapped(before, key), key(x)), api.ErrTwice)
 }
 
 // Range returns ErrRange for a number that is not from low to high.

@@ -25,6 +25,36 @@ func TestFirst(t *testing.T) {
 	}
 }
 
+// P7.4, P8.1: an error is that of what does not hold.
+func TestThat(t *testing.T) {
+	for _, x := range []struct {
+		holds   bool
+		e, want api.Errno
+	}{
+		{true, api.ErrName, api.OK}, {false, api.ErrName, api.ErrName}, {false, api.ErrOrder, api.ErrOrder}, {true, api.OK, api.OK}, {false, api.OK, api.OK},
+	} {
+		if e := check.That(x.holds, x.e); e != x.want {
+			t.Errorf("%v of what holds (%v): got %v, want %v", x.e, x.holds, e, x.want)
+		}
+	}
+}
+
+// P7.1, P7.4, P8.1: an element has another key than all before it.
+func TestOnce(t *testing.T) {
+	length := func(s string) int { return len(s) }
+	for _, x := range []struct {
+		before []string
+		s      string
+		want   api.Errno
+	}{
+		{nil, "", api.OK}, {[]string{"a", "bcd"}, "ef", api.OK}, {[]string{"a", "bcd"}, "e", api.ErrTwice}, {[]string{"a", "bcd"}, "efg", api.ErrTwice}, {[]string{"a", "bcd"}, "", api.OK},
+	} {
+		if e := check.Once(x.before, x.s, length); e != x.want {
+			t.Errorf("Once of %q behind %q: got %v, want %v", x.s, x.before, e, x.want)
+		}
+	}
+}
+
 // P1, P2: the first element with an error decides, behind the length of the list.
 func TestLists(t *testing.T) {
 	parity := func(n int) api.Errno {

@@ -15,7 +15,7 @@ import (
 // CheckLogs returns the first error of logs, or OK.
 func CheckLogs(l []Log) api.Errno {
 	return check.Successive(l, MaxLogs, func(before []Log, x Log) api.Errno {
-		return check.First(checkLog(x), checkOnce(before, x, func(l Log) int { return l.Controller }))
+		return check.First(checkLog(x), check.Once(before, x, func(l Log) int { return l.Controller }))
 	})
 }
 
@@ -26,15 +26,6 @@ func checkLog(l Log) api.Errno {
 
 func checkController(controller int) api.Errno {
 	return check.Range(controller, 0, math.MaxUint8)
-}
-
-// checkOnce returns ErrTwice for an element that has the same key as one before
-// it.
-func checkOnce[T any, K comparable](before []T, x T, key func(T) K) api.Errno {
-	if slices.Contains(list.Mapped(before, key), key(x)) {
-		return api.ErrTwice
-	}
-	return api.OK
 }
 
 // byTick returns the pulses of logs by their ticks.

@@ -14,28 +14,13 @@ import (
 func CheckModules(l []Module) api.Errno {
 	return check.Successive(l, MaxModules, func(before []Module, m Module) api.Errno {
 		return check.First(
-			checkName(m.Name),
-			checkOnce(before, m, func(m Module) string { return m.Name }),
+			check.That(phasor.IsName(m.Name), api.ErrName),
+			check.Once(before, m, func(m Module) string { return m.Name }),
 			checkTick(m.From),
 			checkTick(m.By),
 			check.Range(m.Hours, 1, MaxHours),
-			checkSpan(m))
+			check.That(m.From <= m.By, api.ErrOrder))
 	})
-}
-
-func checkName(name string) api.Errno {
-	if !phasor.IsName(name) {
-		return api.ErrName
-	}
-	return api.OK
-}
-
-// checkSpan returns ErrOrder for a module whose ticks are in a wrong order.
-func checkSpan(m Module) api.Errno {
-	if m.From > m.By {
-		return api.ErrOrder
-	}
-	return api.OK
 }
 
 // CheckOutages returns the first error of outages, or OK.

@@ -59,3 +59,9 @@ func Lowest(num, den int) api.Ratio {
 func RoundedUp(n, by int) int {
 	return (n + by - 1) / by
 }
+
+// RoundedDown returns the greatest integer that is not above n / by, for by above
+// 0.
+func RoundedDown(n, by int) int {
+	return (n - Remainder(n, by)) / by
+}

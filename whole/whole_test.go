@@ -95,3 +95,16 @@ func TestRoundedUp(t *testing.T) {
 		}
 	}
 }
+
+// P6.2, P8.4: also an integer below 0 is rounded down, not towards 0.
+func TestRoundedDown(t *testing.T) {
+	for n := -100; n < 100; n++ {
+		for by := 1; by <= 30; by++ {
+			want := -100
+			for (want+1)*by <= n {
+				want++
+			}
+			is(t, "RoundedDown", whole.RoundedDown(n, by), want)
+		}
+	}
+}
