@@ -1,6 +1,7 @@
 package arm
 
 import (
+	"cmp"
 	"slices"
 
 	"bipole/api"
@@ -88,17 +89,10 @@ func checkOrders(l []Order) api.Errno {
 
 // checkSet returns the error of the indices of a set, or OK.
 func checkSet(set []int, a Arm) api.Errno {
-	if len(set) > MaxModules {
-		return api.ErrMany
-	}
 	usable := usableIndices(a)
-	for i, index := range set {
-		if !slices.Contains(usable, index) {
-			return api.ErrUnknown
-		}
-		if i > 0 && index <= set[i-1] {
-			return api.ErrOrder
-		}
-	}
-	return api.OK
+	return check.Successive(set, MaxModules, func(before []int, index int) api.Errno {
+		return check.First(
+			check.That(slices.Contains(usable, index), api.ErrUnknown),
+			check.Above(before, index, cmp.Compare))
+	})
 }

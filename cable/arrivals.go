@@ -34,22 +34,15 @@ func checkEnd(end string) api.Errno {
 
 // checkArrivals returns the error of arrivals, or OK.
 func checkArrivals(l []Arrival) api.Errno {
-	if len(l) > MaxArrivals {
-		return api.ErrMany
-	}
-	for i, a := range l {
-		if e := checkArrival(a); e != api.OK {
-			return e
-		}
-		if i > 0 && a.compare(l[i-1]) <= 0 {
-			return api.ErrOrder
-		}
-	}
-	return api.OK
+	return check.Successive(l, MaxArrivals, checkArrival)
 }
 
-func checkArrival(a Arrival) api.Errno {
-	return check.First(check.Range(a.Tick, 0, api.MaxNumber), checkEnd(a.End), check.Range(a.Height, -MaxSum, MaxSum))
+func checkArrival(before []Arrival, a Arrival) api.Errno {
+	return check.First(
+		check.Range(a.Tick, 0, api.MaxNumber),
+		checkEnd(a.End),
+		check.Range(a.Height, -MaxSum, MaxSum),
+		check.Above(before, a, Arrival.compare))
 }
 
 // compare returns -1 for an arrival that stands before another one.

@@ -66,6 +66,11 @@ func Once[T any, K comparable](before []T, x T, key func(T) K) api.Errno {
 	return That(!slices.Contains(list.Mapped(before, key), key(x)), api.ErrTwice)
 }
 
+// Above returns ErrOrder for an element that is not above the one before it.
+func Above[T any](before []T, x T, compare func(a, b T) int) api.Errno {
+	return That(len(before) == 0 || compare(x, before[len(before)-1]) > 0, api.ErrOrder)
+}
+
 // Range returns ErrRange for a number that is not from low to high.
 func Range(n, low, high int) api.Errno {
 	if n < low || n > high {

@@ -1,6 +1,7 @@
 package check_test
 
 import (
+	"cmp"
 	"math"
 	"testing"
 
@@ -120,6 +121,25 @@ func TestIndex(t *testing.T) {
 		}
 		if e := check.Index(i, 0); e != api.ErrUnknown {
 			t.Errorf("Index of %d in nothing: got %v", i, e)
+		}
+	}
+}
+
+// P2.2, P4.6, P8.2: an element is held against the one before it alone.
+func TestAbove(t *testing.T) {
+	for _, x := range []struct {
+		before []int
+		n      int
+		want   api.Errno
+	}{
+		{nil, math.MinInt, api.OK}, {[]int{}, 5, api.OK}, {[]int{4}, 5, api.OK}, {[]int{5}, 5, api.ErrOrder}, {[]int{6}, 5, api.ErrOrder}, {[]int{9, 4}, 5, api.OK}, {[]int{1, 2, 6}, 5, api.ErrOrder}, {[]int{math.MinInt}, math.MaxInt, api.OK}, {[]int{math.MaxInt}, math.MinInt, api.ErrOrder},
+	} {
+		if e := check.Above(x.before, x.n, cmp.Compare); e != x.want {
+			t.Errorf("Above of %v and %d: got %v, want %v", x.before, x.n, e, x.want)
+		}
+		backwards := func(a, b int) int { return cmp.Compare(b, a) }
+		if e := check.Above(x.before, x.n, backwards); len(x.before) > 0 && x.before[len(x.before)-1] != x.n && e == x.want {
+			t.Errorf("Above backwards of %v and %d: got %v", x.before, x.n, e)
 		}
 	}
 }

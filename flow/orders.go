@@ -10,18 +10,14 @@ import (
 
 // CheckOrders returns the first error of orders, or OK.
 func CheckOrders(l []Order) api.Errno {
-	if len(l) > MaxOrders {
-		return api.ErrMany
-	}
-	for i, o := range l {
-		if e := check.First(check.Range(o.Tick, 0, api.MaxTime), checkOrdered(o)); e != api.OK {
-			return e
-		}
-		if i > 0 && o.compare(l[i-1]) <= 0 {
-			return api.ErrOrder
-		}
-	}
-	return api.OK
+	return check.Successive(l, MaxOrders, checkOrder)
+}
+
+func checkOrder(before []Order, o Order) api.Errno {
+	return check.First(
+		check.Range(o.Tick, 0, api.MaxTime),
+		checkOrdered(o),
+		check.Above(before, o, Order.compare))
 }
 
 // checkOrdered returns ErrRange for a power that no order has.

@@ -112,16 +112,7 @@ func checkOrders(orders []int) api.Errno {
 	if len(orders) == 0 {
 		return api.ErrEmpty
 	}
-	if len(orders) > MaxOrder {
-		return api.ErrMany
-	}
-	for i, h := range orders {
-		if e := checkOrder(h); e != api.OK {
-			return e
-		}
-		if i > 0 && h <= orders[i-1] {
-			return api.ErrOrder
-		}
-	}
-	return api.OK
+	return check.Successive(orders, MaxOrder, func(before []int, h int) api.Errno {
+		return check.First(checkOrder(h), check.Above(before, h, cmp.Compare))
+	})
 }

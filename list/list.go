@@ -10,6 +10,16 @@ func Mapped[T, U any](l []T, f func(T) U) []U {
 	return result
 }
 
+// Indices returns the index of each element by its key: of several ones with the
+// same key that of the last one.
+func Indices[T any, K comparable](l []T, key func(T) K) map[K]int {
+	indices := map[K]int{}
+	for i, x := range l {
+		indices[key(x)] = i
+	}
+	return indices
+}
+
 // Transformed returns for each index k the sum over m of the element m, turned
 // k m times.
 func Transformed[T any](l []T, turned func(x T, times int) T, plus func(a, b T) T) []T {

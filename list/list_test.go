@@ -2,6 +2,7 @@ package list_test
 
 import (
 	"fmt"
+	"maps"
 	"slices"
 	"strconv"
 	"testing"
@@ -22,6 +23,17 @@ func TestMapped(t *testing.T) {
 	}
 	if got := list.Mapped(nil, strconv.Itoa); len(got) != 0 {
 		t.Errorf("texts of nothing: got %v", got)
+	}
+}
+
+// P8.1: of several elements with a key the last one counts.
+func TestIndices(t *testing.T) {
+	length := func(s string) int { return len(s) }
+	if got, want := list.Indices([]string{"abc", "", "d", "efg"}, length), map[int]int{0: 1, 1: 2, 3: 3}; !maps.Equal(got, want) {
+		t.Errorf("indices by lengths: got %v, want %v", got, want)
+	}
+	if got := list.Indices(nil, length); len(got) != 0 {
+		t.Errorf("indices of nothing: got %v", got)
 	}
 }
 

@@ -7,6 +7,7 @@ import (
 
 	"bipole/api"
 	"bipole/check"
+	"bipole/whole"
 )
 
 // maxSets is how many sets a plant has at most.
@@ -23,7 +24,7 @@ type route struct {
 func (r route) with(x energized) route {
 	return route{
 		order:   append(slices.Clone(r.order), x.index),
-		set:     r.set | only(x.index),
+		set:     r.set | whole.Bit(x.index),
 		minutes: r.minutes + x.Minutes,
 	}
 }
@@ -57,7 +58,7 @@ func (s station) reached() iter.Seq[route] {
 		first := map[int]route{0: {}}
 		// A further part makes a set greater, so that all orders of a set are
 		// compared before it is visited.
-		for set := range only(len(s.parts)) {
+		for set := range whole.Bit(len(s.parts)) {
 			r, known := first[set]
 			if !known {
 				continue
@@ -120,14 +121,14 @@ func CheckClosed(p Plant, part int, sets []int) api.Errno {
 func (s station) checkNextSet(before []int, set int) api.Errno {
 	return check.First(
 		s.checkSet(set),
-		check.That(len(before) == 0 || set > before[len(before)-1], api.ErrOrder))
+		check.Above(before, set, cmp.Compare))
 }
 
 // isClosed reports whether no ready part leads from sets to others, nor is a part.
 func (s station) isClosed(sets []int, part int) bool {
 	for _, set := range sets {
 		for _, next := range s.ready(set) {
-			if next == part || !slices.Contains(sets, set|only(next)) {
+			if next == part || !slices.Contains(sets, set|whole.Bit(next)) {
 				return false
 			}
 		}

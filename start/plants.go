@@ -38,7 +38,7 @@ func stationOf(p Plant) (station, api.Errno) {
 	if e != api.OK {
 		return station{}, e
 	}
-	indices := indicesOf(p.Parts)
+	indices := list.Indices(p.Parts, func(x Part) string { return x.Name })
 	if e := check.Each(p.Parts, func(x Part) api.Errno { return checkNeeds(x.Needs, indices) }); e != api.OK {
 		return station{}, e
 	}
@@ -61,15 +61,6 @@ func checkPart(before []Part, x Part) api.Errno {
 		check.Range(x.Minutes, 1, MaxMinutes))
 }
 
-// indicesOf returns the indices of parts by their names.
-func indicesOf(l []Part) map[string]int {
-	indices := map[string]int{}
-	for i, x := range l {
-		indices[x.Name] = i
-	}
-	return indices
-}
-
 // checkNeeds returns the error of the names that a part needs, or OK.
 func checkNeeds(names []string, indices map[string]int) api.Errno {
 	return check.Successive(names, MaxParts, func(before []string, name string) api.Errno {
@@ -84,37 +75,16 @@ func checkNeeds(names []string, indices map[string]int) api.Errno {
 func setOf(names []string, indices map[string]int) int {
 	set := 0
 	for _, name := range names {
-		set |= only(indices[name])
+		set |= whole.Bit(indices[name])
 	}
 	return set
-}
-
-// only returns the set of a part alone.
-func only(part int) int {
-	return 1 << part
-}
-
-// has reports whether a part is in a set.
-func has(set, part int) bool {
-	return set&only(part) != 0
-}
-
-// partsOf returns the parts of a set, ascending.
-func partsOf(set int) []int {
-	var l []int
-	for part := range MaxParts {
-		if has(set, part) {
-			l = append(l, part)
-		}
-	}
-	return l
 }
 
 // allNeeds returns the set of all that a part needs, also through others.
 func (s station) allNeeds(part int) int {
 	set := s.parts[part].needs
 	for range s.parts { // each time the set grows by a part at least, or is all of them
-		for _, needed := range partsOf(set) {
+		for needed := range whole.Bits(set) {
 			set |= s.parts[needed].needs
 		}
 	}
@@ -122,7 +92,7 @@ func (s station) allNeeds(part int) int {
 }
 
 func (s station) needsItself(x energized) bool {
-	return has(s.allNeeds(x.index), x.index)
+	return whole.Has(s.allNeeds(x.index), x.index)
 }
 
 // stationWith returns the station of a plant that has a part, or the first error
@@ -141,7 +111,7 @@ func stationFor(p Plant, set int) (station, api.Errno) {
 
 // checkSet returns ErrRange for an integer that is no set.
 func (s station) checkSet(set int) api.Errno {
-	return check.Range(set, 0, only(len(s.parts))-1)
+	return check.Range(set, 0, whole.Bit(len(s.parts))-1)
 }
 
 // Needs returns all parts that a part needs.
@@ -150,7 +120,7 @@ func Needs(p Plant, part int) ([]int, api.Errno) {
 	if e != api.OK {
 		return nil, e
 	}
-	return partsOf(s.allNeeds(part)), api.OK
+	return slices.Collect(whole.Bits(s.allNeeds(part))), api.OK
 }
 
 // Spare returns the capacity that a set of parts leaves.
@@ -169,7 +139,11 @@ func (s station) spare(set int) int {
 
 // sum returns the sum of what each part of a set has.
 func (s station) sum(set int, of func(energized) int) int {
-	return whole.Sum(list.Mapped(partsOf(set), func(part int) int { return of(s.parts[part]) }))
+	sum := 0
+	for part := range whole.Bits(set) {
+		sum += of(s.parts[part])
+	}
+	return sum
 }
 
 // Ready returns the parts that can be energized next.
@@ -200,7 +174,7 @@ func (s station) checkReady(part, set int) api.Errno {
 	}
 	x := s.parts[part]
 	return check.First(
-		check.That(!has(set, part), api.ErrTwice),
+		check.That(!whole.Has(set, part), api.ErrTwice),
 		check.That(set&x.needs == x.needs, api.ErrRule),
 		check.That(max(x.Inrush, x.Load) <= s.spare(set), api.ErrLimit))
 }
@@ -211,5 +185,5 @@ func Bound(p Plant, part int) (int, api.Errno) {
 	if e != api.OK {
 		return 0, e
 	}
-	return s.sum(s.allNeeds(part)|only(part), func(x energized) int { return x.Minutes }), api.OK
+	return s.sum(s.allNeeds(part)|whole.Bit(part), func(x energized) int { return x.Minutes }), api.OK
 }

@@ -10,6 +10,7 @@ import (
 	"bipole/api"
 	"bipole/check"
 	"bipole/list"
+	"bipole/whole"
 )
 
 // CheckLogs returns the first error of logs, or OK.
@@ -152,7 +153,7 @@ func vote(l []Pulse) int {
 			}
 		}
 		if isMost(inserted, len(l)) {
-			valves |= 1 << valve
+			valves |= whole.Bit(valve)
 		}
 	}
 	return valves

@@ -62,7 +62,7 @@ func checkLater[T timed](before []T, x T) api.Errno {
 
 // has reports whether a valve is inserted.
 func (p Pulse) has(valve int) bool {
-	return p.Pulses&(1<<valve) != 0
+	return whole.Has(p.Pulses, valve)
 }
 
 // switched visits the pulses of a train in which a valve is in another state than
@@ -139,7 +139,7 @@ func Substituted(l []Pulse, failed, spare int) ([]Pulse, api.Errno) {
 	}
 	return altered(l, func(p Pulse) int {
 		if p.has(failed) {
-			return p.Pulses ^ (1<<failed | 1<<spare)
+			return p.Pulses ^ (whole.Bit(failed) | whole.Bit(spare))
 		}
 		return p.Pulses
 	}), api.OK

@@ -1,7 +1,13 @@
-// Package whole has what the layers compute with integers and their ratios.
+// Package whole has what the layers compute with integers, their bits and their
+// ratios.
 package whole
 
-import "bipole/api"
+import (
+	"iter"
+	"math/bits"
+
+	"bipole/api"
+)
 
 // Absolute returns the absolute value of an integer.
 func Absolute(n int) int {
@@ -64,4 +70,25 @@ func RoundedUp(n, by int) int {
 // 0.
 func RoundedDown(n, by int) int {
 	return (n - Remainder(n, by)) / by
+}
+
+// Bit returns the integer that has one bit alone, whose index is from 0 on.
+func Bit(i int) int {
+	return 1 << i
+}
+
+// Has reports whether an integer has the bit with an index.
+func Has(n, i int) bool {
+	return n&Bit(i) != 0
+}
+
+// Bits visits the indices of the bits that an integer from 0 on has, ascending.
+func Bits(n int) iter.Seq[int] {
+	return func(yield func(int) bool) {
+		for rest := n; rest != 0; rest &= rest - 1 {
+			if !yield(bits.TrailingZeros(uint(rest))) {
+				return
+			}
+		}
+	}
 }

@@ -1,6 +1,7 @@
 package whole_test
 
 import (
+	"slices"
 	"testing"
 
 	"bipole/api"
@@ -106,5 +107,43 @@ func TestRoundedDown(t *testing.T) {
 			}
 			is(t, "RoundedDown", whole.RoundedDown(n, by), want)
 		}
+	}
+}
+
+// P7.3, P8.1: the bits of an integer are those whose sum it is.
+func TestBits(t *testing.T) {
+	for n := range 1 << 9 {
+		var want []int
+		sum := 0
+		for i := range 12 {
+			if power := whole.Power(2, i); n/power%2 == 1 {
+				want = append(want, i)
+				sum += whole.Bit(i)
+			}
+			if whole.Has(n, i) != slices.Contains(want, i) {
+				t.Errorf("Has of %d and %d: got %v", n, i, whole.Has(n, i))
+			}
+		}
+		is(t, "the sum of the bits", sum, n)
+		if got := slices.Collect(whole.Bits(n)); !slices.Equal(got, want) {
+			t.Errorf("Bits of %d: got %v, want %v", n, got, want)
+		}
+	}
+	if got := slices.Collect(whole.Bits(1<<40 | 1<<62 | 1)); !slices.Equal(got, []int{0, 40, 62}) {
+		t.Errorf("Bits of a large integer: got %v", got)
+	}
+}
+
+// P8.1: no bit is visited after one that was the last wanted.
+func TestFirstBits(t *testing.T) {
+	var got []int
+	for i := range whole.Bits(0b11101) {
+		got = append(got, i)
+		if i == 2 {
+			break
+		}
+	}
+	if !slices.Equal(got, []int{0, 2}) {
+		t.Errorf("Bits up to 2: got %v", got)
 	}
 }
