@@ -10,6 +10,17 @@ func Mapped[T, U any](l []T, f func(T) U) []U {
 	return result
 }
 
+// Filtered returns the elements of a list that are kept.
+func Filtered[T any](l []T, keep func(T) bool) []T {
+	var result []T
+	for _, x := range l {
+		if keep(x) {
+			result = append(result, x)
+		}
+	}
+	return result
+}
+
 // Indices returns the index of each element by its key: of several ones with the
 // same key that of the last one.
 func Indices[T any, K comparable](l []T, key func(T) K) map[K]int {

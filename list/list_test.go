@@ -26,6 +26,26 @@ func TestMapped(t *testing.T) {
 	}
 }
 
+// P9.1: the elements that are kept stay in their order, in memory of their own.
+func TestFiltered(t *testing.T) {
+	l := []int{3, -1, 4, -1, 5}
+	positive := func(n int) bool { return n > 0 }
+	got := list.Filtered(l, positive)
+	if !slices.Equal(got, []int{3, 4, 5}) {
+		t.Errorf("the positive ones of %v: got %v", l, got)
+	}
+	clear(got)
+	if !slices.Equal(l, []int{3, -1, 4, -1, 5}) {
+		t.Errorf("the argument after the result is changed: got %v", l)
+	}
+	if got := list.Filtered([]int{-1, 0}, positive); len(got) != 0 {
+		t.Errorf("none: got %v", got)
+	}
+	if got := list.Filtered(nil, positive); len(got) != 0 {
+		t.Errorf("those of nothing: got %v", got)
+	}
+}
+
 // P8.1: of several elements with a key the last one counts.
 func TestIndices(t *testing.T) {
 	length := func(s string) int { return len(s) }

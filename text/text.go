@@ -7,6 +7,7 @@ import (
 	"strings"
 
 	"bipole/api"
+	"bipole/check"
 	"bipole/list"
 )
 
@@ -15,9 +16,10 @@ const maxDigits = 9
 
 // Read takes a text apart, line by line, and returns the number of its lines.
 // Each line is given with its index to a function that takes its words, and
-// reports whether it knows them. Together with ErrSyntax, Read returns the
-// index of the first line that is wrong: one that has no line feed at its end,
-// whose words are not known, or of which a word was wrong, missing or left.
+// reports whether it knows them. Together with an error, Read returns the index
+// of the first line that is wrong: ErrSyntax for one that has no line feed at its
+// end, whose words are not known, or of which a word was wrong, missing or left;
+// otherwise the error for which it was refused.
 func Read(s string, most int, read func(i int, line *Line) bool) (int, api.Errno) {
 	if len(s) > most {
 		return 0, api.ErrLong
@@ -28,6 +30,9 @@ func Read(s string, most int, read func(i int, line *Line) bool) (int, api.Errno
 		line := &Line{rest: words}
 		if !ended || !read(lines, line) || !line.isDone() {
 			return lines, api.ErrSyntax
+		}
+		if line.refused != api.OK {
+			return lines, line.refused
 		}
 		rest = after
 	}
@@ -46,9 +51,10 @@ func Numbered(word string, numbers []int) string {
 
 // Line is the words of a line that are still to be taken.
 type Line struct {
-	rest  string
-	over  bool // the last word was taken
-	wrong bool // a word was not there, or was not what was asked for
+	rest    string
+	over    bool // the last word was taken
+	wrong   bool // a word was not there, or was not what was asked for
+	refused api.Errno
 }
 
 func (l *Line) isDone() bool {
@@ -72,6 +78,22 @@ func (l *Line) Word() string {
 		l.wrong = true
 	}
 	return word
+}
+
+// Either takes the next word, which is one of two, and reports whether it is the
+// first one of them.
+func (l *Line) Either(yes, no string) bool {
+	word := l.Word()
+	if word != yes && word != no {
+		l.wrong = true
+	}
+	return word == yes
+}
+
+// Refuse refuses a line for an error, which counts only if all of its words are
+// right, and if it was not refused before.
+func (l *Line) Refuse(e api.Errno) {
+	l.refused = check.First(l.refused, e)
 }
 
 // Number takes the next word, which is digits alone.

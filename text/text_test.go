@@ -108,6 +108,53 @@ func TestMore(t *testing.T) {
 	}
 }
 
+// P9.4: a word is one of two, and no other one.
+func TestEither(t *testing.T) {
+	for s, want := range map[string]struct {
+		yes bool
+		e   api.Errno
+	}{
+		"open\n": {true, api.OK}, "closed\n": {false, api.OK}, "Open\n": {false, api.ErrSyntax}, "opened\n": {false, api.ErrSyntax}, "ope\n": {false, api.ErrSyntax}, "\n": {false, api.ErrSyntax}, "closed \n": {false, api.ErrSyntax}, "open closed\n": {true, api.ErrSyntax},
+	} {
+		yes := false
+		_, e := text.Read(s, 100, func(_ int, line *text.Line) bool {
+			yes = line.Either("open", "closed")
+			return true
+		})
+		if yes != want.yes || e != want.e {
+			t.Errorf("%q: got %v, %v, want %v, %v", s, yes, e, want.yes, want.e)
+		}
+	}
+}
+
+// P9.4: a line is refused for the first error, but only if it has its form.
+func TestRefuse(t *testing.T) {
+	for _, x := range []struct {
+		s  string
+		at int
+		e  api.Errno
+	}{
+		{"good a\n", 1, api.OK}, {"zero a\n", 0, api.ErrZero}, {"good a\nzero none\n", 1, api.ErrZero}, {"good none\nzero a\n", 0, api.ErrNone}, {"good a\nzero a\nnone\n", 1, api.ErrZero},
+		{"zero none\nzero a", 0, api.ErrZero}, {"zero a", 0, api.ErrSyntax}, {"zero\n", 0, api.ErrSyntax}, {"zero a b\n", 0, api.ErrSyntax}, {"zero  a\n", 0, api.ErrSyntax}, {"unknown none\n", 0, api.ErrSyntax}, {"none\nzero a\n", 0, api.ErrSyntax},
+		{"good none\n" + strings.Repeat("\n", 100), 0, api.ErrLong},
+	} {
+		at, e := text.Read(x.s, 100, func(_ int, line *text.Line) bool {
+			word := line.Word()
+			if word == "zero" {
+				line.Refuse(api.ErrZero)
+			}
+			if line.Word() == "none" {
+				line.Refuse(api.ErrNone)
+			}
+			line.Refuse(api.OK)
+			return word != "unknown"
+		})
+		if at != x.at || e != x.e {
+			t.Errorf("%q: got %d, %v, want %d, %v", x.s, at, e, x.at, x.e)
+		}
+	}
+}
+
 // P1.5, P2.5, P3.5: lines are written as they are read.
 func TestWritten(t *testing.T) {
 	for got, want := range map[string]string{
