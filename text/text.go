@@ -27,8 +27,8 @@ func Read(s string, most int, read func(i int, line *Line) bool) (int, api.Errno
 	lines := 0
 	for rest := s; rest != ""; lines++ {
 		words, after, ended := strings.Cut(rest, "\n")
-		line := &Line{rest: words}
-		if !ended || !read(lines, line) || !line.isDone() {
+		line := Words(words)
+		if !ended || !read(lines, line) || !line.IsDone() {
 			return lines, api.ErrSyntax
 		}
 		if line.refused != api.OK {
@@ -57,7 +57,14 @@ type Line struct {
 	refused api.Errno
 }
 
-func (l *Line) isDone() bool {
+// Words returns a line by itself, of which no word is taken.
+func Words(s string) *Line {
+	return &Line{rest: s}
+}
+
+// IsDone reports whether all words of a line were taken, and none of them was wrong
+// or missing.
+func (l *Line) IsDone() bool {
 	return l.over && !l.wrong
 }
 

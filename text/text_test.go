@@ -2,6 +2,7 @@ package text_test
 
 import (
 	"slices"
+	"strconv"
 	"strings"
 	"testing"
 
@@ -82,6 +83,24 @@ func TestWords(t *testing.T) {
 		})
 		if e != want {
 			t.Errorf("%q: got %v, want %v", s, e, want)
+		}
+	}
+}
+
+// P10.3, P10.4: a line by itself is done when its last word is taken, and is as it was if
+// it has a line feed.
+func TestLine(t *testing.T) {
+	for s, want := range map[string]bool{"a 1": true, "a\n 1": true, "\n 0": true, "\xff 999999999": true, "": false, "a": false, "a ": false, " 1": false, "a 1 ": false, "a  1": false, "a 1\n": false, "a 01": false, "a -1": false, "a 1 2": false} {
+		line := text.Words(s)
+		if line.IsDone() {
+			t.Errorf("%q: done before a word is taken", s)
+		}
+		word := line.Word()
+		if n := line.Number(); line.IsDone() != want || want && word+" "+strconv.Itoa(n) != s {
+			t.Errorf("%q: got %q, %d, done: %v", s, word, n, line.IsDone())
+		}
+		if line.Word(); want && line.IsDone() {
+			t.Errorf("%q: done after a word too many", s)
 		}
 	}
 }
